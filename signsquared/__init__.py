@@ -1,0 +1,1 @@
+"""Squares of signs, and all that is one with them."""

@@ -1,0 +1,359 @@
+"""What each function does with wrong arguments: which error comes, and which one of several comes first."""
+
+import importlib
+import inspect
+import unittest
+
+from signsquared import errors
+from tests import wrongs
+from tests.plainly import L, P, Q, U, X, order_to_square, plain_heights, plain_ice, plain_loops, plain_roads, plain_sorts
+from tests.wrongs import integers_but
+
+TWELVE = wrongs.identity(12)
+
+
+def unit(sides):
+    return wrongs.identity(sides)
+
+
+def square(value):
+    return value, "InvalidSquare", wrongs.SQUARES
+
+
+def sides(value, most=12):
+    return value, "InvalidSides", integers_but(1, most)
+
+
+def number(value, low, high):
+    return value, "InvalidNumber", integers_but(low, high)
+
+
+def count(value):
+    return value, "InvalidNumber", [some for some in wrongs.INTEGERS if some < 0] + wrongs.NO_INTEGERS
+
+
+def free(value):
+    return value, None, []
+
+
+LINES = (1, 2, 3), "InvalidLines", wrongs.NUMBERS_OF_LINES
+TIES = (1, 0, 5, 4, 3, 2), "InvalidTies", wrongs.TIES
+UPPER = plain_ice(X), "InvalidIce", wrongs.ICES
+POINT = (1, 1), "InvalidPoint", wrongs.POINTS
+
+# For each module each function, with a right value, the error, and wrong values for each argument in its place.
+CALLS = {
+    "squares": {
+        "is_square(value)": [free(X)],
+        "order_square(order)": [((0, 1, 2), "InvalidOrder", wrongs.ORDERS)],
+        "square_order(square)": [square(X)],
+        "unit_square(sides)": [sides(3)],
+        "last_square(sides)": [sides(3)],
+        "minuses(square)": [square(X)],
+        "overtakings(square)": [square(X)],
+        "first_column(square)": [square(X)],
+        "tipped(square)": [square(X)],
+        "mirrored(square)": [square(X)],
+        "upended(square)": [square(X)],
+    },
+    "squarelists": {
+        "squares(sides)": [sides(3)],
+        "square_number(square)": [square(X)],
+        "square_with(sides, number)": [sides(3), count(3)],
+        "count_squares(sides)": [sides(3, 60)],
+        "count_first(sides, column)": [sides(3, 60), (1, "InvalidColumn", integers_but(0, 2))],
+    },
+    "heights": {
+        "heights(square)": [square(X)],
+        "is_heights(value)": [free(plain_heights(X))],
+        "square_by_heights(value)": [(plain_heights(X), "InvalidHeights", wrongs.HEIGHTS)],
+        "hollows(square)": [square(X)],
+        "hills(square)": [square(X)],
+        "raised(square, point)": [square(U), POINT],
+        "lowered(square, point)": [square(X), POINT],
+        "rise(square)": [square(X)],
+    },
+    "triangles": {
+        "triangle(square)": [square(X)],
+        "is_triangle(value)": [free(X)],
+        "square_by_triangle(value)": [(((1,), (0, 2), (0, 1, 2)), "InvalidTriangle", wrongs.TRIANGLES)],
+    },
+    "below": {
+        "is_below(one, other)": [square(X), square(P)],
+        "below_paper(one, other)": [square(X), square(P)],
+        "meet(one, other)": [square(X), square(P)],
+        "join(one, other)": [square(X), square(P)],
+        "way_up(one, other)": [square(X), square(P)],
+        "squares_between(one, other)": [square(X), square(P)],
+        "count_ways_up(one, other)": [square(X), square(P)],
+    },
+    "keys": {
+        "keys(sides)": [sides(3)],
+        "key_with(sides, point, height)": [
+            sides(3), POINT, (2, "InvalidNumber", integers_but(2, 2, 0, 1, 3, 4)),
+        ],
+        "keys_below(square)": [square(X)],
+        "joined_orders(value)": [(((0, 1), (1, 0)), "InvalidOrders", wrongs.LISTS_OF_ORDERS)],
+        "orders_under(square)": [square(X)],
+        "orders_over(square)": [square(X)],
+    },
+    "ice": {
+        "ice_of(square)": [square(X)],
+        "is_ice(value)": [free(X)],
+        "square_by_ice(value)": [UPPER],
+        "cell_sorts(square)": [square(X)],
+        "square_by_sorts(value)": [(plain_sorts(X), "InvalidSorts", wrongs.SORTS)],
+        "sort_counts(square)": [square(X)],
+        "ice_points(value)": [UPPER],
+        "ice_turned(value, point)": [UPPER, POINT],
+    },
+    "iceroads": {
+        "ice_roads(square)": [square(X)],
+        "are_ice_roads(value)": [free(X)],
+        "square_by_ice_roads(value)": [(plain_roads(X), "InvalidRoads", wrongs.ROADS)],
+        "touchings(square)": [square(X)],
+        "count_touching(sides, many)": [sides(3), count(1)],
+    },
+    "icesums": {
+        "ice_counts(square)": [square(X)],
+        "ice_terms(sides)": [sides(3)],
+        "ice_sum(sides, weights)": [sides(3), ((1, 2, 3), "InvalidWeights", wrongs.WEIGHTS)],
+    },
+    "icelines": {
+        "line_weight(square, rows, columns, step)": [square(X), LINES, LINES, number(1, -1000, 1000)],
+        "line_sum(rows, columns, step)": [LINES, LINES, number(1, -1000, 1000)],
+        "line_quotient(rows, columns, step)": [LINES, LINES, number(1, -1000, 1000)],
+    },
+    "fullloops": {
+        "full_loops(square)": [square(X)],
+        "are_full_loops(sides, value)": [sides(3), free(X)],
+        "square_by_loops(sides, links)": [sides(3), (plain_loops(X), "InvalidLoops", wrongs.LOOPS)],
+        "ties_of(square)": [square(X)],
+        "way_from(square, end)": [square(X), (0, "InvalidEnd", wrongs.ENDS)],
+        "loop_rings(square)": [square(X)],
+    },
+    "loopturns": {
+        "turnable_faces(square)": [square(X)],
+        "face_turned(square, face)": [square(X), ((0, 0), "InvalidFace", wrongs.FACES)],
+        "colour_turned(square, colour)": [square(X), number(0, 0, 1)],
+        "led_round(square, times)": [square(X), number(3, -1000, 1000)],
+        "round_size(square)": [square(X)],
+    },
+    "ringties": {
+        "is_ties(value)": [free(X)],
+        "ties_pairs(ties)": [TIES],
+        "ties_by_pairs(value)": [(((0, 5), (1, 2), (3, 4)), "InvalidPairs", wrongs.PAIRS)],
+        "ties_turned(ties, steps)": [TIES, number(1, -1000, 1000)],
+        "ties_mirrored(ties)": [TIES],
+        "all_ties(pairs)": [number(3, 1, 6)],
+        "count_ties(pairs)": [number(3, 1, 60)],
+    },
+}
+
+
+def functions():
+    """The tuples of each function, its name with its arguments, and what is told of these."""
+    told = []
+    for module, calls in CALLS.items():
+        for call, arguments in calls.items():
+            function = getattr(importlib.import_module("signsquared." + module), call.split("(")[0])
+            told.append((module, function, call, arguments))
+    return told
+
+
+def caught(function, arguments):
+    """The name of the error that a call raises, or None."""
+    try:
+        function(*arguments)
+    except errors.SignError as error:
+        return error.__class__.__name__
+    return None
+
+
+class Arguments(unittest.TestCase):
+    def test_each_function_stands_in_its_own_module(self):
+        for module, function, call, _ in functions():
+            with self.subTest(call=call):
+                self.assertEqual(function.__module__, "signsquared." + module)
+                self.assertEqual(function.__name__ + str(inspect.signature(function)), call)
+
+    def test_right_arguments_raise_nothing(self):
+        for _, function, call, arguments in functions():
+            with self.subTest(call=call):
+                self.assertIsNone(caught(function, [right for right, _, _ in arguments]))
+
+    def test_each_wrong_argument_raises_its_error(self):
+        for _, function, call, arguments in functions():
+            for at, (_, error, bad) in enumerate(arguments):
+                for value in bad:
+                    tried = [right for right, _, _ in arguments]
+                    tried[at] = value
+                    with self.subTest(call=call, at=at, value=repr(value)[:80]):
+                        self.assertEqual(caught(function, tried), error)
+
+    def test_of_two_wrong_arguments_the_first_one_is_told(self):
+        for _, function, call, arguments in functions():
+            checked = [at for at, (_, error, _) in enumerate(arguments) if error]
+            for first in checked:
+                for second in checked:
+                    if first < second:
+                        self.both_wrong(function, call, arguments, first, second)
+
+    def both_wrong(self, function, call, arguments, first, second):
+        for bad in arguments[first][2][::5]:
+            for worse in arguments[second][2][::9]:
+                tried = [right for right, _, _ in arguments]
+                tried[first], tried[second] = bad, worse
+                with self.subTest(call=call, bad=repr(bad)[:80], worse=repr(worse)[:80]):
+                    self.assertEqual(caught(function, tried), arguments[first][1])
+
+    def test_every_returned_list_is_new(self):
+        for _, function, call, arguments in functions():
+            rights = [right for right, _, _ in arguments]
+            once, twice = function(*rights), function(*rights)
+            with self.subTest(call=call):
+                self.assertEqual(once, twice)
+                if isinstance(once, list):
+                    self.assertIsNot(once, twice)
+                    once.append("spoilt")
+                    self.assertEqual(function(*rights), twice)
+
+    def test_each_function_is_told(self):
+        for module, calls in CALLS.items():
+            names = [call.split("(")[0] for call in calls]
+            self.assertEqual(len(names), len(set(names)))
+            self.assertIn(module, ("squares", *CALLS))
+
+
+class Limits(unittest.TestCase):
+    def too_many(self, limit, function, *arguments):
+        with self.assertRaises(errors.TooMany) as told:
+            function(*arguments)
+        self.assertEqual(told.exception.limit, limit)
+
+    def test_the_limits_and_one_more(self):
+        by_name = {function.__name__: function for _, function, _, _ in functions()}
+        by_square = [("square_number", 9), ("orders_under", 5), ("orders_over", 5), ("round_size", 5)]
+        by_sides = [("squares", 5, ()), ("square_with", 9, (0,)), ("count_touching", 6, (0,)), ("ice_terms", 5, ()),
+                    ("ice_sum", 6, ((1, 1, 1),))]
+        for name, limit in by_square:
+            by_name[name](unit(limit))
+            for more in (limit + 1, 12):
+                self.too_many(limit, by_name[name], unit(more))
+        for name, limit, rest in by_sides:
+            by_name[name](limit, *rest)
+            for more in (limit + 1, 12):
+                self.too_many(limit, by_name[name], more, *rest)
+        for name in ("squares_between", "count_ways_up"):
+            by_name[name](unit(4), unit(4))
+            self.too_many(4, by_name[name], unit(5), unit(5))
+        by_name["line_sum"]((0,) * 6, (1,) * 6, 2)
+        self.too_many(6, by_name["line_sum"], (0,) * 7, (1,) * 7, 2)
+        self.too_many(6, by_name["line_sum"], (0,) * 12, (1,) * 12, 2)
+
+    def test_the_limit_comes_last(self):
+        by_name = {function.__name__: function for _, function, _, _ in functions()}
+        for name, arguments, error in (
+            ("square_with", (10, -1), "InvalidNumber"),
+            ("square_with", (10, "a"), "InvalidNumber"),
+            ("square_with", (13, 0), "InvalidSides"),
+            ("square_with", (10, 10 ** 119), "TooMany"),
+            ("count_touching", (7, -1), "InvalidNumber"),
+            ("count_touching", (7, True), "InvalidNumber"),
+            ("count_touching", (7, 10 ** 119), "TooMany"),
+            ("ice_sum", (7, (1, 1)), "InvalidWeights"),
+            ("ice_sum", (7, (1, 1, 1001)), "InvalidWeights"),
+            ("line_sum", ((0,) * 7, (0,) * 7, 1001), "InvalidNumber"),
+            ("line_sum", ((0,) * 7, (0,) * 6, 0), "InvalidLines"),
+            ("line_sum", ((0,) * 7, (0,) * 6, 1001), "InvalidLines"),
+            ("squares_between", (unit(5), unit(6)), "Unlike"),
+            ("squares_between", (unit(5), 6), "InvalidSquare"),
+            ("count_ways_up", (unit(6), unit(5)), "Unlike"),
+            ("count_ways_up", (unit(6), unit(13)), "InvalidSquare"),
+        ):
+            with self.subTest(name=name, arguments=arguments):
+                self.assertEqual(caught(by_name[name], arguments), error)
+
+    def test_a_number_too_great_comes_behind_the_limit(self):
+        by_name = {function.__name__: function for _, function, _, _ in functions()}
+        for many, limit in ((1, 1), (2, 2), (3, 7), (4, 42), (5, 429), (9, 911835460)):
+            by_name["square_with"](many, limit - 1)
+            self.assertEqual(caught(by_name["square_with"], (many, limit)), "InvalidNumber")
+        self.assertEqual(caught(by_name["square_with"], (3, 10 ** 119)), "InvalidNumber")
+
+
+class Unlike(unittest.TestCase):
+    def test_squares_of_other_sides(self):
+        for module, function, call, arguments in functions():
+            if module == "below":
+                self.assertEqual(caught(function, (X, Q)), "Unlike")
+                self.assertEqual(caught(function, (Q, X)), "Unlike")
+                self.assertEqual(caught(function, (Q, "x")), "InvalidSquare")
+                self.assertEqual(caught(function, ([], X)), "InvalidSquare")
+
+    def test_lines_that_do_not_fit(self):
+        by_name = {function.__name__: function for _, function, _, _ in functions()}
+        for name, arguments, error in (
+            ("line_weight", (X, (1, 2), (1, 2), 0), "InvalidLines"),
+            ("line_weight", (X, (1, 2), (1, 2), "x"), "InvalidLines"),
+            ("line_weight", (X, (1, 2, 3), (1, 2), 1001), "InvalidLines"),
+            ("line_weight", (X, (1, 2, 3), (1, 2, 3), 1001), "InvalidNumber"),
+            ("line_weight", ("x", (1, 2), (1,), 1001), "InvalidSquare"),
+            ("line_quotient", ((1, 1), (0, 5), 1001), "InvalidNumber"),
+            ("line_quotient", ((1, 1), (0, 5), None), "InvalidNumber"),
+            ("line_quotient", ((1, 1), (0, 5), 1), "InvalidLines"),
+            ("line_quotient", ((1, 2), (5, 5), 1), "InvalidLines"),
+            ("line_quotient", ((1, 2), (5, 5, 6), 1001), "InvalidLines"),
+            ("line_quotient", ((1, 2), (0, 5), 1001), "InvalidNumber"),
+            ("line_quotient", ((0,), (0,), 1000), None),
+        ):
+            with self.subTest(name=name, arguments=arguments):
+                self.assertEqual(caught(by_name[name], arguments), error)
+
+    def test_points_and_faces_of_the_wrong_lean(self):
+        by_name = {function.__name__: function for _, function, _, _ in functions()}
+        for name, arguments in (
+            ("raised", (X, (1, 1))), ("raised", (U, (1, 2))), ("raised", (L, (1, 2))), ("raised", (((1,),), (0, 0))),
+            ("lowered", (X, (1, 2))), ("lowered", (U, (1, 1))), ("lowered", (TWELVE, (11, 11))),
+            ("ice_turned", (plain_ice(U), (1, 2))), ("ice_turned", (plain_ice(((1,),)), (1, 1))),
+            ("key_with", (1, (1, 1), 2)), ("key_with", (3, (0, 0), 2)), ("key_with", (3, (3, 3), 2)),
+        ):
+            with self.subTest(name=name, arguments=arguments):
+                self.assertEqual(caught(by_name[name], arguments), "InvalidPoint")
+        self.assertEqual(caught(by_name["face_turned"], (U, (0, 1))), "InvalidFace")
+        self.assertEqual(caught(by_name["face_turned"], (((1,),), (0, 0))), "InvalidFace")
+        self.assertEqual(caught(by_name["face_turned"], (order_to_square((2, 0, 1)), (0, 1))), None)
+
+
+class Errors(unittest.TestCase):
+    NAMES = """
+        InvalidSquare InvalidSides InvalidOrder InvalidNumber InvalidColumn InvalidPoint InvalidHeights InvalidTriangle
+        InvalidOrders InvalidIce InvalidSorts InvalidRoads InvalidWeights InvalidLines InvalidLoops InvalidEnd InvalidFace
+        InvalidTies InvalidPlace InvalidWord InvalidPairs InvalidSize InvalidLaying InvalidCouple InvalidCell InvalidSigns
+        InvalidTable InvalidBox InvalidPile InvalidCubes InvalidSpot InvalidIndex InvalidPoints InvalidTiles InvalidHalf
+        InvalidCorner InvalidPrime InvalidFacts InvalidBounds InvalidMove InvalidLot InvalidNotes InvalidShare InvalidState
+        InvalidStep InvalidScript InvalidText NothingToUndo NothingToRedo Unlike
+    """.split()
+
+    def test_each_error_takes_a_message(self):
+        for name in self.NAMES:
+            error = getattr(errors, name)
+            self.assertEqual(error.__bases__, (errors.SignError,))
+            self.assertEqual(str(error("a message")), "a message")
+            self.assertEqual(error.__module__, "signsquared.errors")
+
+    def test_the_base(self):
+        self.assertEqual(errors.SignError.__bases__, (ValueError,))
+        self.assertEqual(str(errors.SignError("a message")), "a message")
+
+    def test_too_many_takes_a_limit(self):
+        self.assertEqual(errors.TooMany.__bases__, (errors.SignError,))
+        self.assertEqual(errors.TooMany(5).limit, 5)
+
+    def test_there_are_no_other_errors(self):
+        classes = {name for name, value in vars(errors).items() if inspect.isclass(value)}
+        self.assertEqual(classes, set(self.NAMES) | {"SignError", "TooMany"})
+
+
+if __name__ == "__main__":
+    unittest.main()

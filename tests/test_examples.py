@@ -1,0 +1,129 @@
+"""The examples of the document, as they stand, run as doctests."""
+
+import doctest
+import importlib
+import unittest
+
+MODULES = (
+    "squares",
+    "squarelists",
+    "heights",
+    "triangles",
+    "below",
+    "keys",
+    "ice",
+    "iceroads",
+    "icesums",
+    "icelines",
+    "fullloops",
+    "loopturns",
+    "ringties",
+)
+
+MEANT = """
+>>> X = ((0, 1, 0), (1, -1, 1), (0, 1, 0))
+>>> P = ((0, 1, 0), (0, 0, 1), (1, 0, 0))
+>>> U = ((1, 0, 0), (0, 1, 0), (0, 0, 1))
+>>> L = ((0, 0, 1), (0, 1, 0), (1, 0, 0))
+>>> Q = ((0, 1, 0, 0), (1, -1, 0, 1), (0, 0, 1, 0), (0, 1, 0, 0))
+"""
+
+EXAMPLES = {
+    "squares": r"""
+>>> [is_square(X), is_square(((1, -1, 1), (0, 1, 0), (0, 1, 0))), is_square(((0, 1), (1,))), is_square(()), is_square([[1]]), order_square((1, 2, 0)) == P, square_order(P), square_order(X), unit_square(3) == U, last_square(3) == L]
+[True, False, False, False, False, True, (1, 2, 0), None, True, True]
+>>> [minuses(X), minuses(P), [overtakings(some) for some in (U, X, P, L, Q)], first_column(Q)]
+[[(1, 1)], [], [0, 2, 2, 3, 4], 1]
+>>> [tipped(P) == order_square((2, 0, 1)), tipped(X) == X, mirrored(U) == L, upended(U) == L, mirrored(X) == X, square_order(upended(P)), tipped(Q)]
+[True, True, True, True, True, (0, 2, 1), ((0, 1, 0, 0), (1, -1, 0, 1), (0, 0, 1, 0), (0, 1, 0, 0))]
+""",
+    "squarelists": r"""
+>>> [squares(2), len(squares(3)), squares(3)[3] == X, square_number(X), square_number(U), square_with(3, 2) == P, [count_squares(sides) for sides in (1, 2, 3, 4, 5, 6)], [count_first(4, column) for column in (0, 1, 2, 3)], square_with(1, 0)]
+[[((0, 1), (1, 0)), ((1, 0), (0, 1))], 7, True, 3, 6, True, [1, 2, 7, 42, 429, 7436], [7, 14, 14, 7], ((1,),)]
+""",
+    "heights": r"""
+>>> [heights(X), is_heights(((0, 1), (1, 0))), is_heights(((0, 1, 2), (1, 1, 1), (2, 1, 0))), square_by_heights(((0, 1), (1, 0))), hollows(X), hills(X), square_order(raised(X, (1, 2))), square_order(lowered(X, (1, 1)))]
+[((0, 1, 2, 3), (1, 2, 1, 2), (2, 1, 2, 1), (3, 2, 1, 0)), True, False, ((1,),), [(1, 2), (2, 1)], [(1, 1), (2, 2)], (2, 0, 1), (0, 2, 1)]
+>>> [[rise(some) for some in (U, X, P, L, Q)], hollows(U), hills(U), hills(L)]
+[[0, 2, 3, 4, 5], [(1, 1), (2, 2)], [], [(1, 2), (2, 1)]]
+""",
+    "triangles": r"""
+>>> [triangle(X), triangle(P), is_triangle(((1,), (0, 2), (0, 1, 2))), is_triangle(((0,), (1, 2), (0, 1, 2))), is_triangle(((0,), (0, 2))), is_triangle(()), square_by_triangle(((1,), (0, 2), (0, 1, 2))) == X]
+[((1,), (0, 2), (0, 1, 2)), ((1,), (1, 2), (0, 1, 2)), True, False, False, False, True]
+""",
+    "below": r"""
+>>> [is_below(U, X), is_below(X, P), is_below(P, X), below_paper(P, X), below_paper(X, P), square_order(meet(P, X)), meet(P, order_square((2, 0, 1))) == X, join(order_square((0, 2, 1)), order_square((1, 0, 2))) == X, join(P, order_square((2, 0, 1))) == L]
+[True, True, False, (2, 1), None, None, True, True, True]
+>>> [way_up(X, P), way_up(P, X), len(way_up(U, L)), len(squares_between(U, L)), count_ways_up(U, L), count_ways_up(X, X), count_ways_up(L, U)]
+[((2, 1),), None, 4, 7, 4, 1, 0]
+""",
+    "keys": r"""
+>>> [keys(3), len(keys(5)), key_with(3, (1, 1), 2), key_with(3, (2, 1), 3), keys_below(X), keys_below(U), joined_orders(((0, 2, 1), (1, 0, 2))) == X, orders_under(X), orders_over(X), orders_under(P)]
+[[(0, 2, 1), (1, 0, 2), (1, 2, 0), (2, 0, 1)], 20, (1, 0, 2), (1, 2, 0), [(0, 2, 1), (1, 0, 2)], [], True, [(0, 2, 1), (1, 0, 2)], [(1, 2, 0), (2, 0, 1)], [(1, 2, 0)]]
+""",
+    "ice": r"""
+>>> [ice_of(X), is_ice(ice_of(P)), is_ice(((), ((),))), square_by_ice((((0, 1),), ((0,), (1,)))), cell_sorts(X), sort_counts(X), sort_counts(U), sort_counts(L), square_by_sorts((("one",),)), square_by_sorts(cell_sorts(Q)) == Q]
+[(((0, 0, 1, 1), (0, 1, 0, 1), (0, 0, 1, 1)), ((0, 0, 0), (0, 1, 0), (1, 0, 1), (1, 1, 1))), True, False, ((1,),), (('none', 'one', 'across'), ('one', 'minus', 'one'), ('down', 'one', 'both')), (1, 1, 1, 1, 4, 1), (0, 0, 3, 3, 3, 0), (3, 3, 0, 0, 3, 0), ((1,),), True]
+>>> [ice_points(ice_of(X)), ice_points(ice_of(U)), ice_turned(ice_of(U), (1, 1)) == ice_of(order_square((1, 0, 2))), ice_turned(ice_of(X), (1, 2)) == ice_of(raised(X, (1, 2)))]
+[[(1, 1), (1, 2), (2, 1), (2, 2)], [(1, 1), (2, 2)], True, True]
+""",
+    "iceroads": r"""
+>>> [ice_roads(X), ice_roads(U), touchings(X), touchings(U), touchings(L), [count_touching(3, many) for many in (0, 1, 2, 3, 4)]]
+[(((2, 0), (1, 0), (1, 1), (0, 1), (0, 2)), ((2, 1), (2, 2), (1, 2)), ((2, 2),)), (((2, 0), (1, 0), (0, 0), (0, 1), (0, 2)), ((2, 1), (1, 1), (1, 2)), ((2, 2),)), [(2, 2)], [], [(1, 2), (2, 1), (2, 2)], [1, 3, 2, 1, 0]]
+>>> [are_ice_roads((((0, 0),),)), are_ice_roads(()), square_by_ice_roads((((1, 0), (0, 0), (0, 1)), ((1, 1),))), square_by_ice_roads(ice_roads(Q)) == Q]
+[True, False, ((1, 0), (0, 1)), True]
+""",
+    "icesums": r"""
+>>> [[ice_counts(some) for some in (U, X, P, L)], ice_terms(2), ice_terms(3), ice_sum(3, (1, 1, 1)), ice_sum(3, (3, 4, 5)) == 5 ** 9, ice_sum(1, (7, 8, 9)), ice_sum(4, (0, 1, 1)), ice_sum(6, (1, 1, 1))]
+[[(0, 6, 3), (2, 2, 5), (4, 2, 3), (6, 0, 3)], [((0, 2, 2), 1), ((2, 0, 2), 1)], [((0, 6, 3), 1), ((2, 2, 5), 1), ((2, 4, 3), 2), ((4, 2, 3), 2), ((6, 0, 3), 1)], 7, True, 9, 1, 7436]
+""",
+    "icelines": r"""
+>>> [line_weight(X, (1, 2, 3), (0, 0, 0), 1), line_sum((1, 2), (0, 5), 1), line_sum((2, 1), (0, 5), 1), line_quotient((1, 2), (0, 5), 1), line_sum((0, 0, 0), (0, 0, 0), 1), line_sum((1, 1, 1), (0, 0, 0), 1), line_sum((4,), (9,), 7), line_quotient((4,), (9,), 7)]
+[24, -12, -12, -12, 1, 109, 7, 7]
+>>> [line_quotient((1, 2, 3), (0, 5, 7), 2) == line_sum((3, 1, 2), (7, 0, 5), 2), line_quotient((1, 2, 3), (0, 5, 7), 0)]
+[True, 0]
+""",
+    "fullloops": r"""
+>>> [full_loops(((1,),)), full_loops(X), are_full_loops(3, full_loops(X)), are_full_loops(3, full_loops(X)[1:]), are_full_loops(2, ()), square_by_loops(3, full_loops(P)) == P]
+[(('down', 0, 0), ('down', 1, 0)), (('across', 0, 1), ('across', 0, 2), ('across', 1, 0), ('across', 1, 1), ('across', 1, 2), ('across', 1, 3), ('across', 2, 1), ('across', 2, 2), ('down', 0, 0), ('down', 0, 2), ('down', 3, 0), ('down', 3, 2)), True, False, False, True]
+>>> [[ties_of(some) for some in (U, X, P, L)], ties_of(((1,),)), way_from(U, 1), way_from(X, 0), loop_rings(X), loop_rings(U)]
+[[(5, 4, 3, 2, 1, 0), (1, 0, 5, 4, 3, 2), (1, 0, 3, 2, 5, 4), (3, 2, 1, 0, 5, 4)], (1, 0), ((0, 2), (0, 1), (1, 1), (2, 1), (2, 0)), ((0, 0), (0, 1), (0, 2)), [], []]
+""",
+    "loopturns": r"""
+>>> [turnable_faces(U), turnable_faces(X), face_turned(X, (1, 0)) == P, colour_turned(U, 0) == X, colour_turned(U, 1) == U, led_round(U, 1) == L, led_round(L, -1) == U, led_round(X, 0) == X, [round_size(some) for some in (U, L, ((1,),))]]
+[[(0, 0), (1, 1)], [(0, 0), (0, 1), (1, 0), (1, 1)], True, True, True, True, True, True, [3, 3, 1]]
+""",
+    "ringties": r"""
+>>> [is_ties((1, 0, 5, 4, 3, 2)), is_ties((2, 3, 0, 1)), is_ties((0, 1)), is_ties(()), ties_pairs((5, 2, 1, 4, 3, 0)), ties_by_pairs(((0, 3), (1, 2))), ties_turned((5, 4, 3, 2, 1, 0), -1), ties_turned((1, 0), 7), ties_mirrored((1, 0, 5, 4, 3, 2)), all_ties(2), len(all_ties(5)), count_ties(12)]
+[True, False, False, False, ((0, 5), (1, 2), (3, 4)), (3, 2, 1, 0), (3, 2, 1, 0, 5, 4), (1, 0), (3, 2, 1, 0, 5, 4), [(1, 0, 3, 2), (3, 2, 1, 0)], 42, 208012]
+""",
+}
+
+
+def names_of_the_package():
+    """All names that the modules of the package define, as one dict."""
+    found = {}
+    for name in MODULES:
+        module = importlib.import_module("signsquared." + name)
+        found.update({key: value for key, value in vars(module).items() if not key.startswith("__")})
+    return found
+
+
+class Examples(unittest.TestCase):
+    def test_all_modules_have_examples(self):
+        self.assertEqual(sorted(EXAMPLES), sorted(MODULES))
+
+    def test_examples(self):
+        for name in MODULES:
+            with self.subTest(module=name):
+                # A line feed behind each result begins a new example, as doctest wants it.
+                text = (MEANT + EXAMPLES[name]).replace("\n>>>", "\n\n>>>")
+                test = doctest.DocTestParser().get_doctest(text, names_of_the_package(), name, None, 0)
+                told = []
+                result = doctest.DocTestRunner(verbose=False).run(test, out=told.append)
+                self.assertGreater(result.attempted, 5)
+                self.assertEqual(result.failed, 0, "".join(told))
+
+
+if __name__ == "__main__":
+    unittest.main()

@@ -1,0 +1,99 @@
+"""Any values, and for each kind of argument values that are none of this kind."""
+
+from signsquared.errors import InvalidSquare, SignError, TooMany
+from tests.plainly import P, Q, U, X, out_links, plain_heights, plain_ice, plain_loops, plain_roads, plain_sorts
+
+
+def nested(inner, depth, kind):
+    for _ in range(depth):
+        inner = kind([inner])
+    return inner
+
+
+INTEGERS = [0, 1, -1, 2, 3, 12, 13, 60, 61, -1000, 1000, 10 ** 119, -(10 ** 119)]
+
+NO_INTEGERS = [
+    None, True, False, "", "0", "one", "1\n2", "+0/0+", " " * 1000, (), [], ((),), [[]], ([],), [()], (None,), (True,),
+    ("a",), (1,), [1], [[1]], ((True,),), (([1],),), ((1.0,),), (0, 1), [0, 1], (1, 0), (1, 1), (True, 1), (1, True),
+    (0, None), ("0", "1"), (0, 1, 2), (1, 2, 3), ((0, 1), (1,)), ((0, 1), (1, 0, 0)), ((1, 0), [0, 1]), [(1, 0), (0, 1)],
+    ((1, 0), (0, None)), ((1, 0), (0, True)), (("1", "0"), ("0", "1")), ((1, 0), (1, 0)), ((0, 0), (0, 0)),
+    ((2, -1), (-1, 2)), ((10 ** 119,),), (10 ** 119,) * 3, (0,) * 500, ((0,) * 500,) * 500, [0] * 500, "1" * 500,
+    nested(1, 30, tuple), nested(1, 30, list), nested((), 29, tuple), InvalidSquare("x"), SignError("x"), TooMany(3),
+    (InvalidSquare("x"), 1), ((1, 0), (0, InvalidSquare("x"))), ((), ()), ((), ((),)), (((),), ((),)), (0, (1, 0)),
+    ("across", 0, 0), (("across", 0, 0),), (("one",),) * 2, ("one",), ("a", "b", "c"), (((0, 0),), ((0, 0),)),
+]
+
+ANY = INTEGERS + NO_INTEGERS
+
+
+def identity(sides):
+    return tuple(tuple(int(row == column) for column in range(sides)) for row in range(sides))
+
+
+def spoilt(value):
+    """Values that differ from a right one at one place, or in how it is built."""
+    told = [list(value), value + value[-1:], value[:-1], value + (None,)]
+    for at, item in enumerate(value):
+        others = [None, "x", [item], (item,), -7, 99]
+        if item in (0, 1) and isinstance(item, int):
+            others.append(bool(item))
+        if isinstance(item, tuple):
+            others = [None, "x", 7] + spoilt(item)
+        told += [value[:at] + (other,) + value[at + 1:] for other in others]
+    return told
+
+
+def any_but(rights, *more):
+    """Any values but right ones, and further wrong ones; told apart by how they are written, as True equals 1."""
+    return [value for value in ANY if repr(value) not in [repr(right) for right in rights]] + list(more)
+
+
+def integers_but(low, high, *more):
+    """Any values but integers from low to high, and those next to these bounds."""
+    return [value for value in INTEGERS if not low <= value <= high] + NO_INTEGERS + [low - 1, high + 1] + list(more)
+
+
+SQUARES = any_but(
+    [((1, 0), (0, 1))], *spoilt(X), *spoilt(P), *spoilt(Q), identity(13), ((1, -1, 1), (0, 1, 0), (0, 1, 0)),
+    ((0, 1, 0), (1, 0, 0), (0, 1, 0)), ((0, 1, 0), (1, -1, 1)), ((-1,),), ((0,),), ((0, 1), (0, 1)), ((1, 0), (1, 0)),
+    ((0, 0, 1), (1, 0, -1), (0, 0, 1)), ((1, 1, -1), (0, 0, 1), (0, 0, 1)), ((1, 0, 0), (0, 1, 0)), ["100", "010", "001"],
+)
+ORDERS = any_but([(0, 1), (1, 0), (0, 1, 2)], (0, 0), (1, 2), (-1, 0), (0, 2), tuple(range(13)), (0, True), (False, 1), range(3))
+POINTS = any_but([(1, 1)], (0, 1), (1, 0), (3, 1), (1, 3), (-1, 1), (1, -1), (True, True), [1, 1], (1, 1, 1), ("1", "1"))
+HEIGHTS = any_but([((0, 1), (1, 0))], *spoilt(plain_heights(X)), ((0,),), ((0, 1, 2), (1, 1, 1), (2, 1, 0)),
+                  ((0, 1, 2), (1, 4, 1), (2, 1, 0)), ((0, 1, 2), (1, -2, 1), (2, 1, 0)), plain_heights(identity(13)))
+TRIANGLES = any_but(
+    [], *spoilt(((1,), (0, 2), (0, 1, 2))), ((0,), (1, 2), (0, 1, 2)), ((2,), (0, 1), (0, 1, 2)), ((0,), (0, 2)), ((1,),),
+    ((1,), (2, 0), (0, 1, 2)), ((1,), (1, 1), (0, 1, 2)), tuple(tuple(range(many)) for many in range(1, 14)),
+)
+LISTS_OF_ORDERS = any_but(
+    [((0, 1), (1, 0)), ((1, 0), (1, 0))], ((0, 1), (0, 1, 2)), ((0, 1),) * 61, ((0, 0),), [(0, 1)], ([0, 1],), ((0, True),), (tuple(range(13)),),
+)
+ICES = any_but(
+    [], *spoilt(plain_ice(X)), *spoilt(plain_ice(U)), (plain_ice(X)[0], plain_ice(P)[1]), plain_ice(X)[::-1],
+    plain_ice(identity(13)), (((0, 1, 1), (0, 1, 1)), ((0, 0), (1, 0), (1, 1))),
+)
+SORTS = any_but([(("one",),)], *spoilt(plain_sorts(X)), *spoilt(plain_sorts(Q)), (("one",),) * 2, plain_sorts(identity(13)),
+                (("one", "none"), ("both", "one")), (("one", "across"), ("both", "one")), (("minus",),))
+ROADS = any_but(
+    [], *spoilt(plain_roads(X)), *spoilt(plain_roads(P)), plain_roads(X)[::-1], plain_roads(identity(13)),
+    (((1, 0), (1, 1)), ((1, 1), (0, 1))), (((1, 0), (0, 0), (0, 1)), ((1, 1), (0, 1))), (((0, 0), (0, 0)),),
+)
+WEIGHTS = any_but([(0, 1, 2), (1, 2, 3)], (1001, 0, 0), (0, -1001, 0), (0, 0, 1001), (0, 0), (0, 0, 0, 0), [1, 1, 1], (1, True, 1))
+NUMBERS_OF_LINES = any_but(
+    [(1, 2, 3), (0, 1, 2)], (1001, 0, 0), (0, 0, -1001), (0,) * 13, [1, 2, 3], (1, 2, True), (1, 2), (1, 2, 3, 4), (1, 2, "3"),
+)
+ENDS = integers_but(0, 5)
+FACES = any_but([(0, 0), (0, 1), (1, 0), (1, 1)], (2, 0), (0, 2), (-1, 0), (0, -1), (False, False), (1, True), [0, 0], (0, 0, 0))
+LOOPS = any_but(
+    [], *spoilt(plain_loops(X)), *spoilt(plain_loops(U)), plain_loops(X)[::-1], plain_loops(identity(2)), plain_loops(Q),
+    tuple(sorted(out_links(3))), plain_loops(identity(13)), plain_loops(X) + plain_loops(X)[-1:],
+)
+TIES = any_but(
+    [(1, 0)], *spoilt((1, 0, 5, 4, 3, 2)), (2, 3, 0, 1), (0, 1), (1, 2, 0, 3), (0,), (1, 0, 3), (1, 0, 4, 3, 2, 5),
+    (1, 2, 3, 0), tuple(range(25, -1, -1)), (2, 3, 0, 1, 5, 4), (3, 4, 5, 0, 1, 2),
+)
+PAIRS = any_but(
+    [((0, 1),)], *spoilt(((0, 5), (1, 2), (3, 4))), ((0, 2), (1, 3)), ((1, 0),), ((1, 2), (0, 3)), ((0, 1), (2, 3), (2, 3)),
+    ((0, 1), (0, 1)), ((0, 0),), ((-1, 0),), ((0, 2),), tuple((2 * at, 2 * at + 1) for at in range(13)), [(0, 1)], ((0, 10 ** 119),),
+)

@@ -98,11 +98,6 @@ def cell_sorts(square):
     return tuple([row_sorts(above, row) for above, row in zip(standing, square)])
 
 
-def are_words(value, many):
-    """Whether any value is a tuple of so many words for sorts."""
-    return is_long(value, many) and all([isinstance(word, str) and word in SORTS for word in value])
-
-
 def sign_of(sort):
     """The integer in a cell of a sort."""
     if sort == "one":
@@ -112,7 +107,7 @@ def sign_of(sort):
 
 def square_by_sorts(value):
     """The square whose sorts these are."""
-    if length_between(value, 1, MOST_SIDES) and all([are_words(row, len(value)) for row in value]):
+    if length_between(value, 1, MOST_SIDES) and all([is_long(row, len(value)) for row in value]):
         told = tuple([tuple([sign_of(sort) for sort in row]) for row in value])
         if is_square(told) and cell_sorts(told) == value:
             return told

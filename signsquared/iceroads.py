@@ -1,7 +1,7 @@
 """Ice roads: ways along the full edges of squares, and where they touch."""
 
 from signsquared.errors import InvalidRoads
-from signsquared.helpers import MOST_SIDES, check_at_most, check_count, check_sides, is_between, is_pair, length_between
+from signsquared.helpers import MOST_SIDES, check_at_most, check_count, check_sides, is_pair, length_between
 from signsquared.ice import cell_sorts, is_ice, row_sorts, square_by_ice
 from signsquared.squarelists import tally_squares
 
@@ -22,10 +22,8 @@ def road_from(sorts, start):
 
 
 def has_road_form(value, sides):
-    """Whether any value is a tuple of cells, no more than a road of so many sides can have."""
-    if not length_between(value, 1, 2 * sides - 1) or not all([is_pair(cell) for cell in value]):
-        return False
-    return all([is_between(row, 0, sides - 1) and is_between(column, 0, sides - 1) for row, column in value])
+    """Whether any value is a tuple of pairs of integers, as many as a road of so many sides can have."""
+    return length_between(value, 1, 2 * sides - 1) and all([is_pair(cell) for cell in value])
 
 
 def edges_on(road, sides):
@@ -58,6 +56,7 @@ def square_on(value):
     """The square whose ice roads any value is, or None."""
     if not length_between(value, 1, MOST_SIDES) or not all([has_road_form(road, len(value)) for road in value]):
         return None
+    # Whatever is no road leaves edges of no ice, or of an ice whose roads are others.
     ice = ice_on(value)
     if not is_ice(ice):
         return None

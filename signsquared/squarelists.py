@@ -22,7 +22,7 @@ def next_rows(state):
             if 0 <= so_far + sign <= 1 and 0 <= come + sign <= 1
         ]
     rows = [row for row, so_far in begun if so_far == 1]
-    return [(row, tuple([come + sign for come, sign in zip(state, row)])) for row in rows]
+    return [(row, tuple([one + more for one, more in zip(state, row)])) for row in rows]
 
 
 def list_squares(sides):

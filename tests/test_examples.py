@@ -2,6 +2,7 @@
 
 import doctest
 import importlib
+import pathlib
 import unittest
 
 MODULES = (
@@ -123,6 +124,12 @@ class Examples(unittest.TestCase):
                 result = doctest.DocTestRunner(verbose=False).run(test, out=told.append)
                 self.assertGreater(result.attempted, 5)
                 self.assertEqual(result.failed, 0, "".join(told))
+
+    def test_examples_of_the_readme(self):
+        readme = pathlib.Path(__file__).resolve().parent.parent / "README.md"
+        test = doctest.DocTestParser().get_doctest(readme.read_text(encoding="utf-8"), {}, "README", None, 0)
+        result = doctest.DocTestRunner(verbose=False).run(test)
+        self.assertEqual((result.failed, result.attempted > 5), (0, True))
 
 
 if __name__ == "__main__":

@@ -106,6 +106,16 @@ class Loops(unittest.TestCase):
             for value in spoilt(full_loops(square)):
                 self.assertIs(are_full_loops(len(square), value), False)
 
+    def test_other_words(self):
+        """A link with a word that is none is nowhere, wherever it stands in ascending order."""
+        for square in SMALL[2] + SMALL[3]:
+            links = full_loops(square)
+            for at, (_, row, column) in enumerate(links):
+                for word in ("", "a", "b", "acrosss", "down ", "z", None, True, 0):
+                    some = links[:at] + links[at + 1:] + ((word, row, column),)
+                    some = tuple(sorted(some)) if isinstance(word, str) else some
+                    self.assertIs(are_full_loops(len(square), some), False)
+
     def test_rim_the_other_way(self):
         """The links that are not in full loops have two at each spot, too, but the wrong ones that lead out."""
         for square in SMALL[2] + SMALL[3]:

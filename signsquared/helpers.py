@@ -1,6 +1,8 @@
 """Checks and reckonings that several modules share."""
 
-from signsquared.errors import InvalidNumber, InvalidPoint, InvalidSides, TooMany
+from math import gcd
+
+from signsquared.errors import InvalidColumn, InvalidNumber, InvalidPoint, InvalidSides, TooMany
 
 MOST_SIDES = 12
 
@@ -51,6 +53,12 @@ def check_sides(sides, most=MOST_SIDES):
         raise InvalidSides("this is no such number of sides")
 
 
+def check_column(sides, column):
+    """Raise InvalidColumn unless this is a column of so many sides."""
+    if not is_between(column, 0, sides - 1):
+        raise InvalidColumn("there is no such column")
+
+
 def check_number(number, low, high):
     """Raise InvalidNumber unless this is an integer from low to high."""
     if not is_between(number, low, high):
@@ -82,6 +90,23 @@ def multiplied(numbers):
     for number in numbers:
         result = result * number
     return result
+
+
+def power(number, times):
+    """A number, so many times as a factor; 1 for no times."""
+    result, factor, rest = 1, number, times
+    while rest > 0:
+        if rest & 1:
+            result = result * factor
+        factor = factor * factor
+        rest = rest >> 1
+    return result
+
+
+def fraction(top, below):
+    """A fraction above 0 as a pair without a common divisor above 1."""
+    common = gcd(top, below)
+    return top // common, below // common
 
 
 def first_row_led(table):

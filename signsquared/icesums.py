@@ -1,7 +1,7 @@
 """Ice counts, and sums of weights over all squares."""
 
 from signsquared.errors import InvalidWeights
-from signsquared.helpers import are_numbers, check_at_most, check_sides
+from signsquared.helpers import are_numbers, check_at_most, check_sides, power
 from signsquared.ice import row_sorts, sort_counts
 from signsquared.squarelists import sum_of_worths, tally_squares
 
@@ -40,11 +40,3 @@ def ice_sum(sides, weights):
         return power(weights[0], counts[0]) * power(weights[1], counts[1]) * power(weights[2], counts[2])
 
     return sum_of_worths(sides, worth)
-
-
-def power(number, times):
-    """A number, so many times as a factor; 1 for no times."""
-    result = 1
-    for _ in range(times):
-        result = result * number
-    return result

@@ -2,8 +2,8 @@
 
 from math import comb, factorial
 
-from signsquared.errors import InvalidColumn, InvalidNumber
-from signsquared.helpers import check_at_most, check_count, check_sides, is_between, multiplied
+from signsquared.errors import InvalidNumber
+from signsquared.helpers import check_at_most, check_column, check_count, check_sides, multiplied
 from signsquared.squares import check_square
 
 MOST_COUNTED = 60
@@ -126,8 +126,7 @@ def count_squares(sides):
 def count_first(sides, column):
     """How many squares of 1 to 60 sides have the first row's one at a column."""
     check_sides(sides, MOST_COUNTED)
-    if not is_between(column, 0, sides - 1):
-        raise InvalidColumn("there is no such column")
+    check_column(sides, column)
     # Of all squares, each column has a share that is a product of two binomials; all shares come to a third one.
     share = comb(sides - 1 + column, column) * comb(2 * sides - 2 - column, sides - 1)
     return count_squares(sides) * share // comb(3 * sides - 2, sides - 1)

@@ -1,5 +1,6 @@
 """Slow and plain reckonings, straight from the definitions, to hold the program against."""
 
+import functools
 import itertools
 import random
 
@@ -224,15 +225,25 @@ def loops_with_colour(links, sides, colour):
     return links
 
 
+def pairings(places):
+    """All ways to part places into pairs."""
+    if not places:
+        return [()]
+    return [
+        ((places[0], partner),) + rest
+        for partner in places[1:] for rest in pairings([place for place in places[1:] if place != partner])
+    ]
+
+
+@functools.cache
 def plain_ties(pairs):
     """The ascending list of all ties, of few pairs."""
-    places, found = 2 * pairs, []
-    for value in itertools.product(range(places), repeat=places):
-        if all(value[p] != p and value[value[p]] == p for p in range(places)):
-            two = [(a, value[a]) for a in range(places) if a < value[a]]
-            if not any(a < c < b < d for a, b in two for c, d in two):
-                found.append(value)
-    return found
+    found = []
+    for two in pairings(list(range(2 * pairs))):
+        if not any(a < c < b < d for a, b in two for c, d in two):
+            partners = dict(two) | {b: a for a, b in two}
+            found.append(tuple(partners[place] for place in range(2 * pairs)))
+    return sorted(found)
 
 
 def determinant_by_orders(table):

@@ -38,6 +38,11 @@ def free(value):
 
 LINES = (1, 2, 3), "InvalidLines", wrongs.NUMBERS_OF_LINES
 TIES = (1, 0, 5, 4, 3, 2), "InvalidTies", wrongs.TIES
+PLACE = 4, "InvalidPlace", wrongs.PLACES
+SIZE = 2, "InvalidSize", integers_but(1, 11)
+SIZE_TO_TEN = 2, "InvalidSize", integers_but(1, 10)
+SIZE_FROM_TWO = 2, "InvalidSize", integers_but(2, 11)
+LAYING = wrongs.UPRIGHT, "InvalidLaying", wrongs.LAYINGS
 UPPER = plain_ice(X), "InvalidIce", wrongs.ICES
 POINT = (1, 1), "InvalidPoint", wrongs.POINTS
 
@@ -147,6 +152,50 @@ CALLS = {
         "ties_mirrored(ties)": [TIES],
         "all_ties(pairs)": [number(3, 1, 6)],
         "count_ties(pairs)": [number(3, 1, 60)],
+    },
+    "tiecounts": {
+        "squares_tied(ties)": [TIES],
+        "count_tied(ties)": [TIES],
+        "tie_counts(sides)": [sides(3)],
+    },
+    "stirring": {
+        "stirred(ties, ring_place)": [TIES, PLACE],
+        "stirred_by(ties, word)": [TIES, ((5, 0, 3), "InvalidWord", wrongs.WORDS)],
+        "stir_way(one_ties, other_ties)": [TIES, TIES],
+        "stir_shares(pairs)": [number(3, 1, 5)],
+        "shares_stay(pairs, value)": [number(3, 1, 5), free((2, 1, 1, 2, 1))],
+    },
+    "meanders": {
+        "rings_between(one_ties, other_ties)": [TIES, TIES],
+        "ring_counts(pairs)": [number(3, 1, 5)],
+        "ring_determinant(pairs, number)": [number(3, 1, 5), number(7, -1000, 1000)],
+    },
+    "floors": {
+        "floor_cells(size)": [SIZE],
+        "is_floor_laying(size, value)": [SIZE, free(wrongs.UPRIGHT)],
+        "upright_laying(size)": [SIZE],
+        "floor_layings(size)": [SIZE],
+        "flat_dominoes(size, laying)": [SIZE, LAYING],
+    },
+    "couples": {
+        "do_fit(small, great)": [square(U), square(X)],
+        "floor_laying(small, great)": [square(X), square(Q)],
+        "floor_couple(size, laying)": [SIZE, LAYING],
+        "greats_around(square)": [(X, "InvalidSquare", wrongs.SQUARES + [TWELVE])],
+        "smalls_within(square)": [(X, "InvalidSquare", wrongs.SQUARES + [((1,),)])],
+    },
+    "blocks": {
+        "turn_blocks(size, laying)": [SIZE, LAYING],
+        "block_turned(size, laying, cell)": [SIZE, LAYING, ((2, 1), "InvalidCell", wrongs.CELLS)],
+        "laying_rise(size, laying)": [SIZE, LAYING],
+        "laying_meet(size, laying, other)": [SIZE, LAYING, LAYING],
+        "turns_between(size, laying, other)": [SIZE, LAYING, LAYING],
+    },
+    "shuffles": {
+        "slid_dominoes(size, laying)": [SIZE_TO_TEN, LAYING],
+        "grown_laying(size, laying, signs)": [SIZE_TO_TEN, LAYING, ((0, 1, 0), "InvalidSigns", wrongs.SIGNS)],
+        "shrunk_laying(size, laying, signs)": [SIZE_FROM_TWO, LAYING, ((), "InvalidSigns", wrongs.NO_SIGNS)],
+        "growth_signs(size, laying)": [SIZE_FROM_TWO, LAYING],
     },
 }
 

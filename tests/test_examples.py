@@ -19,6 +19,13 @@ MODULES = (
     "fullloops",
     "loopturns",
     "ringties",
+    "tiecounts",
+    "stirring",
+    "meanders",
+    "floors",
+    "couples",
+    "blocks",
+    "shuffles",
 )
 
 MEANT = """
@@ -97,6 +104,39 @@ EXAMPLES = {
     "ringties": r"""
 >>> [is_ties((1, 0, 5, 4, 3, 2)), is_ties((2, 3, 0, 1)), is_ties((0, 1)), is_ties(()), ties_pairs((5, 2, 1, 4, 3, 0)), ties_by_pairs(((0, 3), (1, 2))), ties_turned((5, 4, 3, 2, 1, 0), -1), ties_turned((1, 0), 7), ties_mirrored((1, 0, 5, 4, 3, 2)), all_ties(2), len(all_ties(5)), count_ties(12)]
 [True, False, False, False, ((0, 5), (1, 2), (3, 4)), (3, 2, 1, 0), (3, 2, 1, 0, 5, 4), (1, 0), (3, 2, 1, 0, 5, 4), [(1, 0, 3, 2), (3, 2, 1, 0)], 42, 208012]
+""",
+    "tiecounts": r"""
+>>> [squares_tied((1, 0, 5, 4, 3, 2)) == [X], count_tied((1, 0, 3, 2, 5, 4)), tie_counts(2), tie_counts(3)]
+[True, 2, [((1, 0, 3, 2), 1), ((3, 2, 1, 0), 1)], [((1, 0, 3, 2, 5, 4), 2), ((1, 0, 5, 4, 3, 2), 1), ((3, 2, 1, 0, 5, 4), 1), ((5, 2, 1, 4, 3, 0), 2), ((5, 4, 3, 2, 1, 0), 1)]]
+""",
+    "stirring": r"""
+>>> [stirred((5, 4, 3, 2, 1, 0), 0), stirred((5, 4, 3, 2, 1, 0), 5), stirred((1, 0, 3, 2), 1), stirred_by((1, 0, 3, 2), (1, 0, 3)), stir_way((1, 0, 3, 2), (1, 0, 3, 2)), stir_way((1, 0), (1, 0)), len(stir_way((5, 4, 3, 2, 1, 0), (1, 0, 5, 4, 3, 2)))]
+[(1, 0, 3, 2, 5, 4), (5, 4, 3, 2, 1, 0), (3, 2, 1, 0), (3, 2, 1, 0), (), (), 2]
+>>> [stir_shares(1), stir_shares(2), stir_shares(3), sum(stir_shares(4)), max(stir_shares(4)), shares_stay(2, (3, 3)), shares_stay(3, (1, 1, 1, 1, 1)), shares_stay(2, (0, 0))]
+[(1,), (1, 1), (2, 1, 1, 2, 1), 42, 7, True, False, False]
+""",
+    "meanders": r"""
+>>> A, B, E = (1, 0, 3, 2, 5, 4), (5, 4, 3, 2, 1, 0), (5, 2, 1, 4, 3, 0)
+>>> [rings_between(A, A), rings_between(A, B), rings_between(A, E), ring_counts(2), ring_counts(3), ring_counts(4), ring_determinant(1, 7), ring_determinant(2, 2), ring_determinant(3, 2), ring_determinant(3, 1)]
+[3, 2, 1, (0, 2, 2), (0, 8, 12, 5), (0, 42, 84, 56, 14), 7, 12, 5184, 0]
+""",
+    "floors": r"""
+>>> [floor_cells(1), len(floor_cells(4)), is_floor_laying(1, (((0, 0), (0, 1)), ((1, 0), (1, 1)))), is_floor_laying(1, (((0, 0), (1, 1)),)), upright_laying(2), len(floor_layings(2)), floor_layings(1)]
+[[(0, 0), (0, 1), (1, 0), (1, 1)], 40, True, False, (((0, 1), (1, 1)), ((0, 2), (1, 2)), ((1, 0), (2, 0)), ((1, 3), (2, 3)), ((2, 1), (3, 1)), ((2, 2), (3, 2))), 8, [(((0, 0), (0, 1)), ((1, 0), (1, 1))), (((0, 0), (1, 0)), ((0, 1), (1, 1)))]]
+""",
+    "couples": r"""
+>>> [do_fit(unit_square(2), U), do_fit(unit_square(2), L), do_fit(U, U), floor_laying(unit_square(2), U) == upright_laying(2), floor_couple(1, (((0, 0), (0, 1)), ((1, 0), (1, 1)))), [square_order(some) for some in greats_around(unit_square(2))], [square_order(some) for some in smalls_within(X)], smalls_within(L) == [last_square(2)]]
+[True, False, False, True, (((1,),), ((0, 1), (1, 0))), [None, (1, 0, 2), (0, 2, 1), (0, 1, 2)], [(1, 0), (0, 1)], True]
+""",
+    "blocks": r"""
+>>> V = upright_laying(2)
+>>> [turn_blocks(2, V), laying_rise(2, V), floor_couple(2, block_turned(2, V, (0, 1)))[1] == order_square((1, 0, 2)), laying_rise(2, floor_laying(last_square(2), L)), laying_meet(2, V, floor_laying(last_square(2), L)) == V, len(turns_between(2, V, floor_laying(last_square(2), L))), turns_between(1, floor_layings(1)[1], floor_layings(1)[0])]
+[[(0, 1), (2, 1)], 0, True, 5, True, 5, ((0, 0),)]
+""",
+    "shuffles": r"""
+>>> V = upright_laying(2)
+>>> [slid_dominoes(1, floor_layings(1)[1]), slid_dominoes(1, floor_layings(1)[0]), grown_laying(1, floor_layings(1)[1], (0, 0)) == V, floor_couple(2, grown_laying(1, floor_layings(1)[1], (1, 1)))[1] == X, growth_signs(2, V), shrunk_laying(2, V, ()) == upright_laying(1)]
+[(((1, 0), (2, 0)), ((1, 3), (2, 3))), (((0, 1), (0, 2)), ((3, 1), (3, 2))), True, True, (0, 0), True]
 """,
 }
 

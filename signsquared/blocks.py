@@ -3,7 +3,7 @@
 from signsquared.below import lesser_table
 from signsquared.couples import around_choices, couple_tables, floor_couple, laying_of, within_choices
 from signsquared.errors import InvalidCell
-from signsquared.floors import check_laying, check_size, floor_cells
+from signsquared.floors import check_laying, floor_cells
 from signsquared.heights import rise
 from signsquared.helpers import is_pair
 
@@ -36,7 +36,6 @@ def full_blocks(size, laying):
 
 def check_two_layings(size, laying, other):
     """Raise InvalidSize or InvalidLaying unless these are two layings of the floor of a size."""
-    check_size(size)
     check_laying(size, laying)
     check_laying(size, other)
 
@@ -66,14 +65,12 @@ def changed_points(table, changed):
 
 def turn_blocks(size, laying):
     """The ascending list of all blocks that can be turned."""
-    check_size(size)
     check_laying(size, laying)
     return full_blocks(size, laying)
 
 
 def block_turned(size, laying, cell):
     """The laying with a block turned."""
-    check_size(size)
     check_laying(size, laying)
     if not is_pair(cell) or cell not in full_blocks(size, laying):
         raise InvalidCell("this is no block that can be turned")

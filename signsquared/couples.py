@@ -1,7 +1,7 @@
 """Couples of squares that fit, the layings that they tell, and the squares around and within a square."""
 
 from signsquared.errors import InvalidCouple, InvalidSquare
-from signsquared.floors import check_laying, check_size
+from signsquared.floors import check_laying
 from signsquared.heights import height_table, table_square
 from signsquared.helpers import check_at_most
 from signsquared.squares import cells_with, check_square
@@ -119,7 +119,6 @@ def floor_laying(small, great):
 
 def floor_couple(size, laying):
     """The couple of a laying."""
-    check_size(size)
     check_laying(size, laying)
     small, great = couple_tables(size, laying)
     return table_square(small), table_square(great)

@@ -13,7 +13,7 @@ def check_size(size, low=1, high=MOST_SIZE):
 
 
 def check_laying(size, laying):
-    """Raise InvalidLaying unless this is a laying of the floor of a size."""
+    """Raise InvalidSize or InvalidLaying unless this is a laying of the floor of a size."""
     if not is_floor_laying(size, laying):
         raise InvalidLaying("this is no laying of the floor")
 
@@ -89,6 +89,5 @@ def floor_layings(size):
 
 def flat_dominoes(size, laying):
     """How many dominoes of a laying are flat."""
-    check_size(size)
     check_laying(size, laying)
     return len([domino for domino in laying if is_flat(domino)])

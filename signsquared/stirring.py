@@ -32,7 +32,7 @@ def steps_behind(ways, known):
     for ties, way in ways.items():
         for place in range(len(ties)):
             come = tied_at(ties, place)
-            if come not in known and come not in found:
+            if come not in known:
                 found[come] = way + (place,)
     return found
 

@@ -27,4 +27,4 @@ def tie_counts(sides):
     for square in squares(sides):
         ties = ties_of(square)
         tally[ties] = tally[ties] + 1
-    return sorted([(ties, many) for ties, many in tally.items()])
+    return list(tally.items())

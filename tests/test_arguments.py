@@ -36,6 +36,11 @@ def free(value):
     return value, None, []
 
 
+def is_wide(box):
+    """Whether a value is wrong for a box only because its sides are greater than 12."""
+    return isinstance(box, tuple) and len(box) == 3 and all(side in range(1, 41) and side is not True for side in box)
+
+
 LINES = (1, 2, 3), "InvalidLines", wrongs.NUMBERS_OF_LINES
 TIES = (1, 0, 5, 4, 3, 2), "InvalidTies", wrongs.TIES
 PLACE = 4, "InvalidPlace", wrongs.PLACES
@@ -43,6 +48,17 @@ SIZE = 2, "InvalidSize", integers_but(1, 11)
 SIZE_TO_TEN = 2, "InvalidSize", integers_but(1, 10)
 SIZE_FROM_TWO = 2, "InvalidSize", integers_but(2, 11)
 LAYING = wrongs.UPRIGHT, "InvalidLaying", wrongs.LAYINGS
+COLUMN = 1, "InvalidColumn", integers_but(0, 2)
+TILE_POINT = (0, 2), "InvalidPoint", wrongs.TILE_POINTS
+SIZE_TO_SIXTY = 2, "InvalidSize", integers_but(1, 60)
+SHARE = 3, "InvalidNumber", integers_but(1, 99)
+BOX = (2, 3, 2), "InvalidBox", wrongs.BOXES
+PILE = wrongs.HEAP, "InvalidPile", wrongs.PILES
+UNIT_BOX = (1, 1, 1), "InvalidBox", wrongs.BOXES
+WIDE = (2, 2, 2), "InvalidBox", [box for box in wrongs.BOXES if not is_wide(box)] + [(41, 1, 1), (1, 41, 1), (1, 1, 41)]
+WORD = "tipped", "InvalidWord", wrongs.LIKENESSES
+HALF = 2, "InvalidHalf", integers_but(1, 6)
+CHAIN = ((0, 2), (1, 3)), "InvalidPoints", wrongs.POINT_CHAINS
 UPPER = plain_ice(X), "InvalidIce", wrongs.ICES
 POINT = (1, 1), "InvalidPoint", wrongs.POINTS
 
@@ -66,7 +82,7 @@ CALLS = {
         "square_number(square)": [square(X)],
         "square_with(sides, number)": [sides(3), count(3)],
         "count_squares(sides)": [sides(3, 60)],
-        "count_first(sides, column)": [sides(3, 60), (1, "InvalidColumn", integers_but(0, 2))],
+        "count_first(sides, column)": [sides(3, 60), COLUMN],
     },
     "heights": {
         "heights(square)": [square(X)],
@@ -196,6 +212,66 @@ CALLS = {
         "grown_laying(size, laying, signs)": [SIZE_TO_TEN, LAYING, ((0, 1, 0), "InvalidSigns", wrongs.SIGNS)],
         "shrunk_laying(size, laying, signs)": [SIZE_FROM_TWO, LAYING, ((), "InvalidSigns", wrongs.NO_SIGNS)],
         "growth_signs(size, laying)": [SIZE_FROM_TWO, LAYING],
+    },
+    "condensing": {
+        "count_floor(size)": [SIZE_TO_SIXTY],
+        "count_flat(size, many)": [SIZE_TO_SIXTY, number(4, 0, 10 ** 4)],
+        "rise_counts(size)": [SIZE],
+        "condensed(table, share)": [(((1, 2), (3, 4)), "InvalidTable", wrongs.TABLES), SHARE],
+        "share_sum(sides, share)": [sides(3), SHARE],
+    },
+    "piles": {
+        "is_pile(box, value)": [BOX, free(wrongs.HEAP)],
+        "cubes_of(box, pile)": [BOX, PILE],
+        "pile_with(box, cubes)": [BOX, ([(0, 0, 1), (0, 0, 0)], "InvalidCubes", wrongs.CUBES)],
+        "pile_turned(box, pile)": [BOX, PILE],
+        "pile_tipped(box, pile)": [BOX, PILE],
+        "pile_filled(box, pile)": [BOX, PILE],
+        "is_like_pile(box, pile, word)": [BOX, PILE, WORD],
+        "spots_on(box, pile)": [BOX, PILE],
+        "spots_off(box, pile)": [BOX, PILE],
+        "cube_on(box, pile, spot)": [BOX, PILE, ((0, 2), "InvalidSpot", wrongs.SPOTS_ON)],
+        "cube_off(box, pile, spot)": [BOX, PILE, ((1, 0), "InvalidSpot", wrongs.SPOTS_OFF)],
+        "least_turns(box, pile, other)": [BOX, PILE, PILE],
+    },
+    "pileroads": {
+        "roads_of(box, pile)": [BOX, PILE],
+        "are_roads(box, value)": [BOX, free(("rrddr", "drdrr"))],
+        "pile_by_roads(box, roads)": [BOX, (("rrddr", "drdrr"), "InvalidRoads", wrongs.PILE_ROADS)],
+        "road_points(box, pile, row)": [BOX, PILE, (1, "InvalidIndex", integers_but(0, 1))],
+        "count_apart(starts, ends)": [CHAIN, CHAIN],
+        "road_table(box)": [BOX],
+    },
+    "pilefloors": {
+        "tiles_of(box, pile)": [BOX, PILE],
+        "is_laying(box, value)": [UNIT_BOX, free(wrongs.CUBE_TILES)],
+        "pile_by_tiles(box, tiles)": [UNIT_BOX, (wrongs.CUBE_TILES, "InvalidTiles", wrongs.TILES)],
+        "points_up(box, pile)": [BOX, PILE],
+        "points_down(box, pile)": [BOX, PILE],
+        "tiles_turned(box, pile, point)": [BOX, PILE, TILE_POINT],
+    },
+    "pilecounts": {
+        "count_piles(wide)": [WIDE],
+        "count_like_piles(wide, word)": [WIDE, WORD],
+        "piles(box)": [BOX],
+        "count_by_cubes(box)": [BOX],
+    },
+    "fullpiles": {
+        "is_full(half, value)": [HALF, free(wrongs.FULL)],
+        "full_piles(half)": [HALF],
+        "corner_of(half, pile)": [HALF, (wrongs.FULL, "InvalidPile", wrongs.FULL_PILES)],
+        "full_by_corner(half, value)": [HALF, (((1, 0), (0, 0)), "InvalidCorner", wrongs.CORNERS)],
+        "count_full(number)": [number(3, 1, 60)],
+    },
+    "signspreads": {
+        "minus_spread(sides)": [sides(3)],
+        "overtaking_spread(sides)": [sides(3)],
+        "spread_table(sides)": [sides(3)],
+        "first_minus_table(sides)": [sides(3)],
+        "ends_table(sides)": [sides(3)],
+        "count_ends(sides, column, last)": [sides(3), COLUMN, COLUMN],
+        "most_minuses(sides)": [sides(3, 10 ** 30)],
+        "count_one_minus(sides)": [sides(3, 200)],
     },
 }
 

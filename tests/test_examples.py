@@ -26,6 +26,13 @@ MODULES = (
     "couples",
     "blocks",
     "shuffles",
+    "condensing",
+    "piles",
+    "pileroads",
+    "pilefloors",
+    "pilecounts",
+    "fullpiles",
+    "signspreads",
 )
 
 MEANT = """
@@ -137,6 +144,52 @@ EXAMPLES = {
 >>> V = upright_laying(2)
 >>> [slid_dominoes(1, floor_layings(1)[1]), slid_dominoes(1, floor_layings(1)[0]), grown_laying(1, floor_layings(1)[1], (0, 0)) == V, floor_couple(2, grown_laying(1, floor_layings(1)[1], (1, 1)))[1] == X, growth_signs(2, V), shrunk_laying(2, V, ()) == upright_laying(1)]
 [(((1, 0), (2, 0)), ((1, 3), (2, 3))), (((0, 1), (0, 2)), ((3, 1), (3, 2))), True, True, (0, 0), True]
+""",
+    "condensing": r"""
+>>> [[count_floor(size) for size in (1, 2, 3, 4)], [count_flat(2, many) for many in (0, 1, 2, 4, 6, 8)], rise_counts(1), rise_counts(2), condensed(((1, 2), (3, 4)), 1), condensed(((1, 1, 1), (1, 2, 1), (1, 1, 1)), 1), condensed(((1, 1, 1), (1, 4, 1), (1, 1, 1)), 1), condensed(((7,),), 5), share_sum(3, 2), share_sum(1, 9)]
+[[2, 8, 64, 1024], [1, 0, 3, 3, 1, 0], (1, 1), (1, 2, 1, 1, 2, 1), (10, 1), (9, 1), (25, 2), (7, 1), 27, 1]
+""",
+    "piles": r"""
+>>> K, J = ((2, 1), (1, 0)), ((2, 2, 0), (1, 0, 0))
+>>> [is_pile((2, 2, 2), K), is_pile((2, 2, 1), K), is_pile((2, 2, 2), ((1, 2), (0, 0))), cubes_of((2, 2, 2), K), pile_with((2, 2, 2), [(0, 0, 1), (0, 0, 0)]), pile_turned((2, 3, 2), J), pile_tipped((2, 3, 2), J), pile_filled((2, 3, 2), J)]
+[True, False, False, [(0, 0, 0), (0, 0, 1), (0, 1, 0), (1, 0, 0)], ((2, 0), (0, 0)), ((2, 1), (1, 1), (0, 0)), ((2, 1), (2, 0), (0, 0)), ((2, 2, 1), (2, 0, 0))]
+>>> [is_like_pile((2, 2, 2), K, "turned"), is_like_pile((2, 2, 2), K, "tipped"), is_like_pile((2, 2, 2), K, "filled"), is_like_pile((2, 3, 2), J, "turned"), is_like_pile((2, 3, 2), J, "filled")]
+[True, True, True, False, False]
+>>> J = ((2, 2, 0), (1, 0, 0))
+>>> [spots_on((2, 3, 2), J), spots_off((2, 3, 2), J), cube_on((2, 3, 2), J, (0, 2)), cube_off((2, 3, 2), J, (0, 1)), least_turns((2, 3, 2), J, ((1, 1, 1), (1, 1, 1))), spots_on((1, 1, 1), ((1,),)), spots_off((1, 1, 1), ((1,),))]
+[[(0, 2), (1, 0), (1, 1)], [(0, 1), (1, 0)], ((2, 2, 1), (1, 0, 0)), ((2, 1, 0), (1, 0, 0)), 5, [], [(0, 0)]]
+""",
+    "pileroads": r"""
+>>> J = ((2, 2, 0), (1, 0, 0))
+>>> [roads_of((2, 3, 2), J), are_roads((2, 3, 2), ("rrddr", "drdrr")), are_roads((2, 3, 2), ("drdrr", "rrddr")), are_roads((1, 1, 1), ("rr",)), pile_by_roads((2, 3, 2), ("rrddr", "drdrr")) == J, road_points((2, 3, 2), J, 1)]
+[('rrddr', 'drdrr'), True, False, False, True, ((0, 2), (0, 1), (1, 1), (1, 0), (2, 0), (3, 0))]
+>>> [count_apart(((0, 2),), ((2, 0),)), count_apart(((0, 2), (1, 3)), ((3, 0), (4, 1))), count_apart(((0, 0),), ((0, 1),)), count_apart(((0, 1), (1, 2)), ((0, 1), (1, 2))), road_table((2, 3, 2)), road_table((1, 1, 1))]
+[6, 50, 0, 1, ((10, 10), (5, 10)), ((2,),)]
+""",
+    "pilefloors": r"""
+>>> K = ((2, 1), (1, 0))
+>>> [tiles_of((1, 1, 1), ((0,),)), tiles_of((1, 1, 1), ((1,),)), is_laying((1, 1, 1), ((0, 0, 0), (1, 0, 0), (2, 0, 1))), pile_by_tiles((1, 1, 1), ((0, -1, -1), (1, 1, 0), (2, 0, 1))), tiles_of((2, 2, 2), K)[:4], pile_by_tiles((2, 2, 2), tiles_of((2, 2, 2), K)) == K]
+[((0, 0, 0), (1, 0, 0), (2, 0, 0)), ((0, -1, -1), (1, 1, 0), (2, 0, 1)), False, ((1,),), ((0, -2, -2), (0, -1, 0), (0, 0, -1), (0, 1, 1)), True]
+>>> K = ((2, 1), (1, 0))
+>>> [points_up((1, 1, 1), ((0,),)), points_down((1, 1, 1), ((0,),)), tiles_turned((1, 1, 1), ((0,),), (0, 0)), points_up((2, 2, 2), K), points_down((2, 2, 2), K)]
+[[(0, 0)], [], ((0, -1, -1), (1, 1, 0), (2, 0, 1)), [(-1, 0), (0, -1), (1, 1)], [(-1, -1), (0, 1), (1, 0)]]
+""",
+    "pilecounts": r"""
+>>> [count_piles((1, 1, 1)), count_piles((2, 2, 2)), count_piles((2, 3, 2)), count_piles((3, 3, 3)), count_piles((5, 5, 5)), piles((1, 2, 1)), count_by_cubes((2, 2, 1)), count_by_cubes((2, 2, 2))]
+[2, 20, 50, 980, 267227532, [((0, 0),), ((1, 0),), ((1, 1),)], (1, 1, 2, 1, 1), (1, 1, 3, 3, 4, 3, 3, 1, 1)]
+>>> [count_like_piles((2, 2, 2), "turned"), count_like_piles((3, 3, 3), "turned"), count_like_piles((2, 2, 2), "tipped"), count_like_piles((2, 2, 2), "filled"), count_like_piles((2, 3, 2), "filled"), count_like_piles((1, 1, 1), "filled"), count_like_piles((2, 3, 2), "tipped"), count_like_piles((1, 2, 2), "turned")]
+[5, 20, 10, 4, 6, 0, 0, 0]
+""",
+    "fullpiles": r"""
+>>> K = ((2, 1), (1, 0))
+>>> [is_full(1, K), is_full(1, ((2, 2), (0, 0))), full_piles(1), len(full_piles(2)), len(full_piles(3)), corner_of(1, K), full_by_corner(1, ((0,),)) == K, [count_full(number) for number in (1, 2, 3, 4, 5)], [corner_of(2, pile) for pile in full_piles(2)]]
+[True, False, [((2, 1), (1, 0))], 2, 7, ((0,),), True, [1, 2, 7, 42, 429], [((0, 0), (0, 0)), ((1, 0), (0, 0))]]
+""",
+    "signspreads": r"""
+>>> [minus_spread(1), minus_spread(3), minus_spread(4), overtaking_spread(3), spread_table(3), first_minus_table(3), ends_table(2), ends_table(3), count_ends(3, 0, 0), count_ends(1, 0, 0)]
+[(1,), (6, 1), (24, 16, 2), (1, 2, 3, 1), ((1, 2, 2, 1), (0, 0, 1, 0)), ((2, 0), (2, 1), (2, 0)), ((0, 1), (1, 0)), ((0, 1, 1), (1, 1, 1), (1, 1, 0)), 0, 1]
+>>> [[most_minuses(sides) for sides in (1, 2, 3, 4, 5, 6)], [count_one_minus(sides) for sides in (1, 2, 3, 4, 5)], most_minuses(10 ** 30) == 25 * 10 ** 58 - 5 * 10 ** 29]
+[[0, 0, 1, 2, 4, 6], [0, 0, 1, 16, 200], True]
 """,
 }
 

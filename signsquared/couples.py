@@ -14,16 +14,17 @@ def great_choices(small, row, column):
     last = len(small)
     if row in (0, last) or column in (0, last):
         return [min(row + column, 2 * last - row - column)]
-    level = (small[row - 1][column - 1], small[row][column])
-    beside = (small[row - 1][column], small[row][column - 1])
-    return list(range(max(max(level), max(beside) - 1), min(min(level) + 2, min(beside) + 1) + 1, 2))
+    # As neighbouring heights differ by 1, the other two bounds hold wherever these do.
+    least = max(small[row - 1][column - 1], small[row][column])
+    most = min(small[row - 1][column], small[row][column - 1]) + 1
+    return list(range(least, most + 1, 2))
 
 
 def small_choices(great, row, column):
     """The list of the heights that squares within one can have at a point, the greater one first."""
-    level = (great[row][column], great[row + 1][column + 1])
-    beside = (great[row][column + 1], great[row + 1][column])
-    return list(range(max(max(level) - 2, max(beside) - 1), min(min(level), min(beside) + 1) + 1, 2))[::-1]
+    least = max(great[row][column + 1], great[row + 1][column]) - 1
+    most = min(great[row][column], great[row + 1][column + 1])
+    return list(range(least, most + 1, 2))[::-1]
 
 
 def around_choices(small):

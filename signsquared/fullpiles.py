@@ -2,7 +2,7 @@
 
 from signsquared.errors import InvalidCorner, InvalidHalf, InvalidPile
 from signsquared.helpers import are_rows, check_at_most, check_number, is_between
-from signsquared.piles import is_like_pile, is_pile
+from signsquared.piles import count_over, is_like_pile, is_pile
 from signsquared.squarelists import count_squares
 
 MOST_HALF = 6
@@ -21,7 +21,7 @@ def full_box(half):
 
 def lower_rows(half, ahead, row):
     """The list of the rows that can follow the rows of a corner, from the row's own column on."""
-    # The triple that faces a cube in the middle of the box is no cube, which leaves so few to each spot.
+    # A higher cube would lie beyond the triple that faces it in the box, of which none is a cube then.
     begun = [()]
     for column in range(row, half):
         above = ahead[-1][column - row + 1] if ahead else half
@@ -46,17 +46,12 @@ def whole_corner(rows):
     return tuple([tuple([rows[min(row, to)][abs(row - to)] for to in places]) for row in places])
 
 
-def count_less(line, most):
-    """How many integers of a line are at most so great."""
-    return len([high for high in line if high <= most])
-
-
 def height_beside(corner, row, column):
     """The integer of a full pile in one of its first rows and, counted from the middle, one of its last columns."""
     half = len(corner)
     # The cubes of the upper half lie as those of the corner do, turned; those of the lower half as theirs, filled.
-    upper = half - count_less(corner[column], row)
-    return upper + count_less(corner[half - 1 - row], 2 * half - 1 - (half + column))
+    upper = count_over(corner[column], row)
+    return upper + half - count_over(corner[half - 1 - row], half - 1 - column)
 
 
 def pile_of_corner(corner):
@@ -70,11 +65,6 @@ def pile_of_corner(corner):
     ]
     lower = [tuple([height_beside(corner, to, row) for to in places]) + corner[row] for row in places]
     return tuple(upper + lower)
-
-
-def corner_part(half, pile):
-    """The last half of the rows of a pile, each without its first half."""
-    return tuple([row[half:] for row in pile[half:]])
 
 
 def is_full(half, value):
@@ -97,13 +87,13 @@ def corner_of(half, pile):
     """The corner of a full pile."""
     if not is_full(half, pile):
         raise InvalidPile("this is no full pile of the half")
-    return corner_part(half, pile)
+    return tuple([row[half:] for row in pile[half:]])
 
 
 def full_by_corner(half, value):
     """The full pile with this corner."""
     check_half(half)
-    if are_rows(value, half, half, 0, 2 * half):
+    if are_rows(value, half, half, 0, half):
         pile = pile_of_corner(value)
         if is_full(half, pile):
             return pile

@@ -1,8 +1,8 @@
 """Tiles of piles on a six-sided floor, and turning three of them around a point."""
 
 from signsquared.errors import InvalidTiles
-from signsquared.helpers import are_ascending, check_point, is_between, is_long
-from signsquared.piles import check_box, check_pile, columns_of, is_pile, is_triple
+from signsquared.helpers import check_point, is_long
+from signsquared.piles import check_box, check_pile, columns_of, count_over, is_pile, is_triple
 
 
 def tiles_told(pile, height):
@@ -19,18 +19,8 @@ def tiles_told(pile, height):
     return tuple(sorted(tops + fronts + sides))
 
 
-def count_over(line, level):
-    """How many integers are greater than a level."""
-    return len([high for high in line if high > level])
-
-
-def is_tile(value):
-    """Whether any value is a tile."""
-    return is_long(value, 3) and is_between(value[0], 0, 2) and is_triple(value)
-
-
 def told_pile(box, tiles):
-    """The rows that ascending tiles tell, a pile if they are a laying; None if they cannot be one."""
+    """The rows that triples tell, a pile if these are its tiles; None if not each spot has one of the sort 0."""
     width, depth, height = box
     # On each falling line of spots the tops come one behind the other, as each integer is at most the one ahead.
     tops = [(top, aside) for sort, top, aside in tiles if sort == 0]
@@ -46,11 +36,11 @@ def told_pile(box, tiles):
 
 
 def points_for(tiles, around):
-    """The ascending list of the points around which tiles lie, told by the tiles around the point (0, 0)."""
+    """The list of the points around which ascending tiles lie, told by those around the point (0, 0)."""
     held = {tile: True for tile in tiles}
     sort, down, aside = around[0]
     points = [(tile[1] - down, tile[2] - aside) for tile in tiles if tile[0] == sort]
-    return sorted([point for point in points if all([tile in held for tile in moved(around, point)])])
+    return [point for point in points if all([tile in held for tile in moved(around, point)])]
 
 
 def moved(around, point):
@@ -80,10 +70,10 @@ def is_laying(box, value):
     width, depth, height = box
     if not is_long(value, width * depth + depth * height + height * width):
         return False
-    if not all([is_tile(tile) for tile in value]) or not are_ascending(value):
+    if not all([is_triple(tile) for tile in value]):
         return False
     pile = told_pile(box, value)
-    return pile is not None and is_pile(box, pile) and tiles_told(pile, height) == value
+    return is_pile(box, pile) and tiles_told(pile, height) == value
 
 
 def pile_by_tiles(box, tiles):

@@ -21,7 +21,7 @@ def check_pile(box, pile):
 
 def check_likeness(word):
     """Raise InvalidWord unless this is one of the words of likenesses."""
-    if not isinstance(word, str) or word not in LIKENESSES:
+    if word not in LIKENESSES:
         raise InvalidWord("this is none of the three words")
 
 
@@ -40,21 +40,15 @@ def columns_of(rows):
     return tuple(zip(*rows))
 
 
-def likeness_box(box, word):
-    """The box in which a pile of a box is, done to it what a word says."""
-    width, depth, height = box
-    if word == "turned":
-        return depth, height, width
-    return (depth, width, height) if word == "tipped" else box
+def count_over(line, level):
+    """How many integers are greater than a level."""
+    return len([high for high in line if high > level])
 
 
 def likeness_of(box, pile, word):
     """A pile, done to it what a word says."""
     if word == "turned":
-        return tuple([
-            tuple([len([high for high in column if high > level]) for level in range(box[2])])
-            for column in columns_of(pile)
-        ])
+        return tuple([tuple([count_over(column, level) for level in range(box[2])]) for column in columns_of(pile)])
     if word == "tipped":
         return columns_of(pile)
     return tuple([tuple([box[2] - high for high in row[::-1]]) for row in pile[::-1]])
@@ -135,7 +129,8 @@ def is_like_pile(box, pile, word):
     """Whether a pile is like itself by a word."""
     check_pile(box, pile)
     check_likeness(word)
-    return likeness_box(box, word) == box and likeness_of(box, pile, word) == pile
+    # A pile that stays as it is has as many rows and columns as before, and so its box stays, too.
+    return likeness_of(box, pile, word) == pile
 
 
 def spots_on(box, pile):

@@ -16,10 +16,10 @@ def is_forward(size, cell):
 
 
 def colliding(size, laying):
-    """The list of all dominoes of a laying that collide."""
+    """The list of all dominoes that collide in blocks of a laying, lying either way."""
     # Of two that share a block the one is forward and the other one backward, so the first one tells enough.
     cells = [cell for cell in full_blocks(size, laying) if not is_forward(size, cell)]
-    return [domino for cell in cells for domino in flat_pair(cell) + upright_pair(cell) if domino in laying]
+    return [domino for cell in cells for domino in flat_pair(cell) + upright_pair(cell)]
 
 
 def slid(size, domino):

@@ -87,7 +87,6 @@ def count_ends(sides, column, last):
     check_sides(sides)
     check_column(sides, column)
     check_column(sides, last)
-    check_at_most(sides, 8)
     return ends_table(sides)[column][last]
 
 

@@ -12,14 +12,24 @@ def table_below(low, high):
     return all([one <= other for row, further in zip(low, high) for one, other in zip(row, further)])
 
 
+def least_rows(lots):
+    """For each lot of rows of heights the row of the least one in each place."""
+    return tuple([tuple([min(column) for column in zip(*rows)]) for rows in lots])
+
+
+def greatest_rows(lots):
+    """For each lot of rows of heights the row of the greatest one in each place."""
+    return tuple([tuple([max(column) for column in zip(*rows)]) for rows in lots])
+
+
 def lesser_table(one, other):
     """The lesser ones of two tables' heights, point by point."""
-    return tuple([tuple([min(two) for two in zip(row, further)]) for row, further in zip(one, other)])
+    return least_rows(list(zip(one, other)))
 
 
 def greater_table(one, other):
     """The greater ones of two tables' heights, point by point."""
-    return tuple([tuple([max(two) for two in zip(row, further)]) for row, further in zip(one, other)])
+    return greatest_rows(list(zip(one, other)))
 
 
 def raisable_points(table, goal):

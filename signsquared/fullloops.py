@@ -14,11 +14,10 @@ def board_links(sides):
 
 def links_out(sides):
     """The list of the links that lead out, as they are numbered."""
-    numbers = range(sides)
-    top = [("down", 0, column) for column in numbers]
-    right = [("across", row, sides) for row in numbers]
-    bottom = [("down", sides, column) for column in reversed(numbers)]
-    return top + right + bottom + [("across", row, 0) for row in reversed(numbers)]
+    top = [("down", 0, column) for column in range(sides)]
+    right = [("across", row, sides) for row in range(sides)]
+    bottom = [("down", sides, column) for column in reversed(range(sides))]
+    return top + right + bottom + [("across", row, 0) for row in reversed(range(sides))]
 
 
 def spots_at(link, sides):

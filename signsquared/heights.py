@@ -1,7 +1,7 @@
 """Heights of squares, hollows and hills."""
 
 from signsquared.errors import InvalidHeights
-from signsquared.helpers import MOST_SIDES, are_rows, check_point, length_between
+from signsquared.helpers import MOST_SIDES, are_rows, check_point, is_pair, length_between
 from signsquared.squares import check_square, unit_square
 
 
@@ -109,6 +109,16 @@ def hollows(square):
 def hills(square):
     """The ascending list of all hills."""
     return hill_points(heights(square))
+
+
+def leaning_points(square):
+    """The ascending list of all hollows and hills."""
+    return sorted(hollows(square) + hills(square))
+
+
+def is_leaning(square, value):
+    """Whether any value is a hollow or a hill of a square."""
+    return is_pair(value) and value in leaning_points(square)
 
 
 def raised(square, point):

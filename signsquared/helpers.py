@@ -47,6 +47,14 @@ def are_ascending(items):
     return all([one < other for one, other in zip(items, items[1:])])
 
 
+def index_tuples(many, size):
+    """The ascending list of all ascending tuples of so many indices, the size, of so many things."""
+    begun = [()]
+    for _ in range(size):
+        begun = [some + (at,) for some in begun for at in range(some[-1] + 1 if some else 0, many)]
+    return begun
+
+
 def check_sides(sides, most=MOST_SIDES):
     """Raise InvalidSides unless this is a number of sides."""
     if not is_between(sides, 1, most):
@@ -78,6 +86,12 @@ def check_point(point, points):
         raise InvalidPoint("this is no such point")
 
 
+def check_any_point(sides, point):
+    """Raise InvalidPoint unless this is a point, inner or not, of so many sides."""
+    if not are_numbers(point, 2, 0, sides):
+        raise InvalidPoint("there is no such point")
+
+
 def check_at_most(sides, limit):
     """Raise TooMany for more than the limit."""
     if sides > limit:
@@ -90,6 +104,11 @@ def multiplied(numbers):
     for number in numbers:
         result = result * number
     return result
+
+
+def sum_apart(table, other):
+    """What the numbers of two tables of as many rows and columns differ by, added."""
+    return sum([abs(one - further) for row, line in zip(table, other) for one, further in zip(row, line)])
 
 
 def power(number, times):

@@ -1,7 +1,7 @@
 """Piles of cubes in a box: turned, tipped, filled, and cubes put and taken away."""
 
 from signsquared.errors import InvalidBox, InvalidCubes, InvalidPile, InvalidSpot, InvalidWord
-from signsquared.helpers import are_numbers, are_rows, is_integer, is_long, is_pair
+from signsquared.helpers import are_numbers, are_rows, is_integer, is_long, is_pair, sum_apart
 
 MOST_SIDE = 12
 LIKENESSES = ("turned", "tipped", "filled")
@@ -168,4 +168,4 @@ def least_turns(box, pile, other):
     """The least number of cubes to be put and taken away between two piles."""
     check_pile(box, pile)
     check_pile(box, other)
-    return sum([abs(high - end) for row, ends in zip(pile, other) for high, end in zip(row, ends)])
+    return sum_apart(pile, other)

@@ -5,9 +5,10 @@ import inspect
 import unittest
 
 from signsquared import errors
-from tests import wrongs
+from tests import wrongs, wrongsteps
 from tests.plainly import L, P, Q, U, X, order_to_square, plain_heights, plain_ice, plain_loops, plain_roads, plain_sorts
 from tests.wrongs import integers_but
+from tests.wrongsteps import C, N, T, W
 
 TWELVE = wrongs.identity(12)
 
@@ -61,6 +62,22 @@ HALF = 2, "InvalidHalf", integers_but(1, 6)
 CHAIN = ((0, 2), (1, 3)), "InvalidPoints", wrongs.POINT_CHAINS
 UPPER = plain_ice(X), "InvalidIce", wrongs.ICES
 POINT = (1, 1), "InvalidPoint", wrongs.POINTS
+
+FACTS = T, "InvalidFacts", wrongsteps.FACTS
+BOUNDS = ((1, 1, 2),), "InvalidBounds", wrongsteps.BOUNDS
+MOVE = "quarter", "InvalidMove", wrongsteps.MOVES
+LOT = ("half", "tipped"), "InvalidLot", wrongsteps.LOTS
+KEEPING = ("half", "tipped"), "InvalidLot", wrongsteps.KEEPING
+NOTES = N, "InvalidNotes", wrongsteps.NOTES
+INNER = (1, 2), "InvalidPoint", wrongsteps.INNER_POINTS
+STATE = W, "InvalidState", wrongsteps.STATES
+STEP = ("toggle", (1, 1)), "InvalidStep", wrongsteps.STEPS
+SCRIPT = C, "InvalidScript", wrongsteps.SCRIPTS
+
+
+def text(value, bad):
+    return value, "InvalidText", bad
+
 
 # For each module each function, with a right value, the error, and wrong values for each argument in its place.
 CALLS = {
@@ -273,6 +290,96 @@ CALLS = {
         "most_minuses(sides)": [sides(3, 10 ** 30)],
         "count_one_minus(sides)": [sides(3, 200)],
     },
+    "signsums": {
+        "sum_by(sides, number)": [sides(3, 40), number(4, -1000, 1000)],
+        "twos_first(sides, column)": [sides(3, 40), COLUMN],
+        "sum_by_two(sides, number, other)": [sides(3, 40), number(4, -1000, 1000), number(-5, -1000, 1000)],
+        "twos_rest(sides, modulus)": [sides(3, 10 ** 30), number(5, 1, 10 ** 12)],
+        "is_count_odd(sides)": [sides(3, 10 ** 30)],
+        "count_power(sides, prime)": [sides(6, 500), (13, "InvalidPrime", wrongsteps.PRIMES)],
+    },
+    "factlists": {
+        "are_facts(sides, value)": [sides(3), free(T)],
+        "goes_with(square, facts)": [square(X), FACTS],
+        "count_told(sides, facts)": [sides(3), FACTS],
+        "first_told(sides, facts)": [sides(3), FACTS],
+        "last_told(sides, facts)": [sides(3), FACTS],
+        "told_with(sides, facts, number)": [sides(3), FACTS, count(1)],
+        "squares_told(sides, facts)": [sides(3), FACTS],
+    },
+    "sures": {
+        "sure_cells(sides, facts)": [sides(3), FACTS],
+        "height_bounds(sides, facts)": [sides(3), FACTS],
+        "least_told(sides, facts)": [sides(3), FACTS],
+        "greatest_told(sides, facts)": [sides(3), FACTS],
+        "clash_in(sides, facts)": [sides(3), FACTS],
+    },
+    "fewcells": {
+        "fewest_cells(square)": [square(X)],
+        "fewest_points(square)": [square(X)],
+        "cell_questions(sides, facts)": [sides(3), FACTS],
+        "next_cell(sides, facts)": [sides(3), FACTS],
+        "cell_paper(sides, facts)": [sides(3), FACTS],
+        "is_cell_paper(sides, facts, value)": [sides(3), FACTS, free(("told", X))],
+    },
+    "bounded": {
+        "least_above(sides, bounds)": [sides(3), BOUNDS],
+        "greatest_under(sides, bounds)": [sides(3), BOUNDS],
+        "bounds_go(sides, lows, highs)": [sides(3), BOUNDS, BOUNDS],
+        "bounds_paper(sides, lows, highs)": [sides(3), BOUNDS, BOUNDS],
+    },
+    "likemoves": {
+        "moved_by(square, move)": [square(X), MOVE],
+        "move_behind(move, last)": [MOVE, MOVE],
+        "moves_made(lot)": [LOT],
+        "own_moves(square)": [square(X)],
+        "is_like(square, lot)": [square(X), LOT],
+        "all_looks(square)": [square(X)],
+    },
+    "likelists": {
+        "squares_like(sides, lot)": [sides(3), LOT],
+        "count_like(sides, lot)": [sides(3), LOT],
+        "told_cells(sides, lot)": [sides(3), LOT],
+        "count_looks(sides)": [sides(3)],
+    },
+    "likecounts": {
+        "count_by_move(sides, move)": [sides(5, 60), ("half", "InvalidMove", wrongsteps.UNCOUNTED)],
+    },
+    "likenear": {
+        "like_below(square, lot)": [square(P), KEEPING],
+        "like_above(square, lot)": [square(P), KEEPING],
+        "apart_squares(one, other)": [square(X), square(P)],
+        "nearest_like(square, lot)": [square(P), LOT],
+    },
+    "notes": {
+        "are_notes(sides, value)": [sides(2), free(N)],
+        "plain_notes(square)": [square(X)],
+        "notes_toggled(sides, notes, point)": [sides(2), NOTES, ((1, 1), "InvalidPoint", wrongsteps.ONE_POINT)],
+        "notes_by_colour(sides, notes, colour)": [sides(2), NOTES, number(0, 0, 1)],
+    },
+    "toggles": {
+        "toggled(square, point)": [square(X), INNER],
+        "toggled_colour(square, colour)": [square(X), number(1, 0, 1)],
+        "apart(one, other)": [square(X), square(P)],
+        "toggle_way(one, other)": [square(X), square(P)],
+        "is_toggle_way(one, other, value)": [square(X), square(P), free(((2, 1),))],
+    },
+    "lifesteps": {
+        "is_state(value)": [free(W)],
+        "is_step(value)": [free(C[0])],
+        "is_script(value)": [free(C)],
+        "stepped(state, step)": [STATE, STEP],
+        "all_stepped(state, script)": [STATE, SCRIPT],
+        "step_back(state, step)": [STATE, STEP],
+    },
+    "lifetexts": {
+        "square_text(square)": [square(X)],
+        "notes_text(sides, notes)": [sides(2), NOTES],
+        "script_text(script)": [SCRIPT],
+        "read_square(text)": [text("+0/0+", wrongsteps.SQUARE_TEXTS)],
+        "read_notes(sides, text)": [sides(1), text("1 2; 3 4/5", wrongsteps.NOTES_TEXTS)],
+        "read_script(text)": [text("tip\ngo 0-1", wrongsteps.SCRIPT_TEXTS)],
+    },
 }
 
 
@@ -335,9 +442,11 @@ class Arguments(unittest.TestCase):
     def test_every_returned_list_is_new(self):
         for _, function, call, arguments in functions():
             rights = [right for right, _, _ in arguments]
+            before = repr(rights)
             once, twice = function(*rights), function(*rights)
             with self.subTest(call=call):
                 self.assertEqual(once, twice)
+                self.assertEqual(repr(rights), before)
                 if isinstance(once, list):
                     self.assertIsNot(once, twice)
                     once.append("spoilt")
@@ -410,7 +519,7 @@ class Limits(unittest.TestCase):
 class Unlike(unittest.TestCase):
     def test_squares_of_other_sides(self):
         for module, function, call, arguments in functions():
-            if module == "below":
+            if call.endswith("(one, other)"):
                 self.assertEqual(caught(function, (X, Q)), "Unlike")
                 self.assertEqual(caught(function, (Q, X)), "Unlike")
                 self.assertEqual(caught(function, (Q, "x")), "InvalidSquare")

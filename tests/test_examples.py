@@ -33,6 +33,21 @@ MODULES = (
     "pilecounts",
     "fullpiles",
     "signspreads",
+    "signsums",
+    "factlists",
+    "sures",
+    "fewcells",
+    "bounded",
+    "likemoves",
+    "likelists",
+    "likecounts",
+    "likenear",
+    "notes",
+    "toggles",
+    "lifesteps",
+    "lifetexts",
+    "lifevalues",
+    "lifebenches",
 )
 
 MEANT = """
@@ -41,6 +56,10 @@ MEANT = """
 >>> U = ((1, 0, 0), (0, 1, 0), (0, 0, 1))
 >>> L = ((0, 0, 1), (0, 1, 0), (1, 0, 0))
 >>> Q = ((0, 1, 0, 0), (1, -1, 0, 1), (0, 0, 1, 0), (0, 1, 0, 0))
+>>> T, S = (("cell", 0, 1, 1),), (("cell", 1, 1, -1),)
+>>> D = ((1, 0), (0, 1))
+>>> N = (((1, 1), (2, 1), (1, 1)), ((2, 1), (3, 1), (2, 1)), ((1, 1), (2, 1), (1, 1)))
+>>> W, C = (D, N, (1, 1)), (("toggle", (1, 1)), ("scale", (1, 2)), ("mirror",))
 """
 
 EXAMPLES = {
@@ -190,6 +209,97 @@ EXAMPLES = {
 [(1,), (6, 1), (24, 16, 2), (1, 2, 3, 1), ((1, 2, 2, 1), (0, 0, 1, 0)), ((2, 0), (2, 1), (2, 0)), ((0, 1), (1, 0)), ((0, 1, 1), (1, 1, 1), (1, 1, 0)), 0, 1]
 >>> [[most_minuses(sides) for sides in (1, 2, 3, 4, 5, 6)], [count_one_minus(sides) for sides in (1, 2, 3, 4, 5)], most_minuses(10 ** 30) == 25 * 10 ** 58 - 5 * 10 ** 29]
 [[0, 0, 1, 2, 4, 6], [0, 0, 1, 16, 200], True]
+""",
+    "signsums": r"""
+>>> [sum_by(3, 2), sum_by(4, 3), sum_by(4, 0), sum_by(4, -1), sum_by(6, 1), sum_by(40, 2) == 2 ** 60 * 2 ** 60 * sum_by(36, 2) * 2 ** 30, twos_first(3, 1), twos_first(4, 0), sum_by_two(3, 2, 3), sum_by_two(3, 0, 5)]
+[8, 90, 24, 10, 7436, True, 4, 8, 33, 1]
+>>> [twos_rest(3, 5), twos_rest(10 ** 30, 7), [is_count_odd(sides) for sides in (1, 2, 3, 4, 5, 6)], is_count_odd((2 ** 64 - 1) // 3), [count_power(4, prime) for prime in (2, 5, 7)], count_power(6, 13)]
+[3, 1, [True, False, True, False, True, False], True, [1, 0, 1], 2]
+""",
+    "factlists": r"""
+>>> [are_facts(3, T), are_facts(3, (("cell", 0, 3, 1),)), are_facts(3, (("down", 3, 2, 1), ("most", 3, 3, 0))), are_facts(2, [T[0]]), goes_with(X, T + S), goes_with(U, T), goes_with(Q, (("corner", 2, 2, 1), ("along", 1, 2, 0), ("least", 1, 1, 2)))]
+[True, False, True, False, True, False, True]
+>>> [[count_told(3, facts) for facts in ((), T, S, (("corner", 2, 2, 1),), (("along", 1, 1, 1),), (("down", 1, 1, 1),))], count_told(8, ()), first_told(3, T) == P, square_order(last_told(3, T)), told_with(3, T, 1) == X, len(squares_told(3, (("cell", 1, 1, 0),))), first_told(2, T + (("cell", 0, 0, 1),))]
+[[7, 3, 1, 5, 3, 3], 10850216, True, (1, 0, 2), True, 4, None]
+""",
+    "sures": r"""
+>>> [sure_cells(3, T), sure_cells(3, S) == X, sure_cells(2, T + (("cell", 0, 0, 1),)), height_bounds(3, S) == (heights(X), heights(X)), height_bounds(3, ()) == (heights(U), heights(L)), height_bounds(3, T)[0]]
+[((0, 1, 0), (None, None, None), (None, None, None)), True, None, True, True, ((0, 1, 2, 3), (1, 2, 1, 2), (2, 1, 0, 1), (3, 2, 1, 0))]
+>>> [square_order(least_told(3, T)), greatest_told(3, T) == P, least_told(3, (("cell", 1, 1, 0),)), least_told(3, (("least", 1, 1, 1),)) == order_square((1, 0, 2)), clash_in(3, (("cell", 0, 0, 1), ("cell", 1, 1, 0), ("cell", 0, 1, 1))), clash_in(3, T + S)]
+[(1, 0, 2), True, None, True, (0, 2), None]
+""",
+    "fewcells": r"""
+>>> [fewest_cells(X), fewest_cells(U), fewest_cells(((1,),)), fewest_points(U), fewest_points(X), fewest_points(unit_square(2))]
+[((1, 1),), ((0, 0), (1, 1)), (), ((1, 1), (2, 2)), ((1, 1), (1, 2), (2, 1), (2, 2)), ((1, 1),)]
+>>> [cell_questions(3, ()), cell_questions(3, T), cell_questions(3, S), next_cell(3, S), cell_paper(2, T), cell_paper(3, S) == ("told", X), cell_paper(2, T + (("cell", 0, 0, 1),))]
+[3, 2, 0, None, ('told', ((0, 1), (1, 0))), True, ('none',)]
+>>> [is_cell_paper(2, (), ("ask", 0, 0, ("none",), ("told", last_square(2)), ("told", unit_square(2)))), is_cell_paper(3, S, ("told", X)), is_cell_paper(3, T, ("told", X)), is_cell_paper(2, (), cell_paper(2, ()))]
+[True, True, False, True]
+""",
+    "bounded": r"""
+>>> [square_order(least_above(3, ((1, 1, 2),))), least_above(3, ()) == U, least_above(3, ((0, 0, 1),)), least_above(3, ((1, 1, 1), (2, 2, 2))) == X, square_order(greatest_under(3, ((1, 1, 0),))), greatest_under(12, ()) == last_square(12)]
+[(1, 0, 2), True, None, True, (0, 2, 1), True]
+>>> [bounds_go(3, ((1, 1, 2),), ((2, 2, 0),)), bounds_go(4, ((2, 2, 4),), ((1, 2, 1),)), bounds_paper(4, ((2, 2, 4),), ((1, 2, 1),)), bounds_paper(3, ((1, 1, 2), (0, 0, 1)), ()), bounds_paper(3, (), ())]
+[True, False, (0, 0), (1, None), None]
+""",
+    "likemoves": r"""
+>>> [[square_order(moved_by(P, move)) for move in ("quarter", "half", "slanted", "tipped", "stay")], move_behind("quarter", "quarter"), move_behind("tipped", "mirrored"), move_behind("mirrored", "tipped"), moves_made(("quarter",)), len(moves_made(("mirrored", "tipped")))]
+[[(0, 2, 1), (2, 0, 1), (1, 2, 0), (2, 0, 1), (1, 2, 0)], 'half', 'quarter', 'three', ['half', 'quarter', 'stay', 'three'], 8]
+>>> [len(own_moves(X)), own_moves(U), own_moves(P), is_like(U, ("half", "tipped")), is_like(U, ("mirrored",)), [square_order(some) for some in all_looks(P)], all_looks(X) == [X]]
+[8, ['half', 'slanted', 'stay', 'tipped'], ['slanted', 'stay'], True, False, [(2, 0, 1), (1, 2, 0), (1, 0, 2), (0, 2, 1)], True]
+""",
+    "likelists": r"""
+>>> [squares_like(3, ("mirrored",)) == [X], len(squares_like(4, ("half",))), squares_like(4, ("mirrored",)), [count_like(sides, ("tipped",)) for sides in (1, 2, 3, 4, 5)], count_like(5, ("mirrored",)), count_like(5, ("mirrored", "upended")), count_like(4, ("quarter",)), count_like(6, ("quarter",))]
+[True, 10, [], [1, 2, 5, 16, 67], 3, 1, 2, 0]
+>>> [len(told_cells(3, ("mirrored",))), len(told_cells(5, ("mirrored",))), told_cells(5, ("mirrored",))[:3], told_cells(2, ("tipped",)), told_cells(2, ("upended",)), [count_looks(sides) for sides in (1, 2, 3, 4, 5)]]
+[9, 13, [((0, 0), 0), ((0, 1), 0), ((0, 2), 1)], [], [], [1, 1, 3, 11, 75]]
+""",
+    "likecounts": r"""
+>>> [[count_by_move(sides, "half") for sides in (1, 2, 3, 4, 5, 6, 7)], [count_by_move(sides, "mirrored") for sides in (1, 2, 3, 5, 7, 9)], [count_by_move(sides, "quarter") for sides in (1, 2, 3, 4, 5, 6, 7, 8)], count_by_move(59, "upended") == count_by_move(59, "mirrored")]
+[[1, 2, 3, 10, 25, 140, 588], [1, 0, 1, 3, 26, 646], [1, 0, 1, 2, 3, 0, 12, 40], True]
+""",
+    "likenear": r"""
+>>> [like_below(P, ("tipped",)) == X, like_above(P, ("tipped",)) == L, like_below(P, ("half",)) == X, like_above(P, ("slanted",)) == P, apart_squares(U, L), apart_squares(P, X), apart_squares(P, tipped(P))]
+[True, True, True, True, 4, 1, 2]
+>>> [nearest_like(P, ("mirrored",)) == (1, [X]), nearest_like(P, ("tipped",)) == (1, [L, X]), nearest_like(X, ("quarter",)) == (0, [X]), nearest_like(unit_square(2), ("mirrored",)), nearest_like(U, ("mirrored", "tipped")) == (2, [X])]
+[True, True, True, None, True]
+""",
+    "notes": r"""
+>>> [are_notes(2, N), are_notes(3, N), are_notes(1, (((1, 1), (2, 2)), ((1, 1), (1, 1)))), plain_notes(D), notes_toggled(2, N, (1, 1))[1], notes_by_colour(2, N, 1) == N, notes_by_colour(2, N, 0) == notes_toggled(2, N, (1, 1))]
+[True, False, False, (((1, 1), (2, 1), (4, 1)), ((2, 1), (1, 1), (2, 1)), ((4, 1), (2, 1), (1, 1))), ((2, 1), (4, 3), (2, 1)), True, True]
+>>> [notes_toggled(3, plain_notes(X), (1, 1)) == plain_notes(lowered(X, (1, 1))), notes_toggled(3, plain_notes(U), (1, 2)) == plain_notes(U), notes_toggled(2, notes_toggled(2, N, (1, 1)), (1, 1)) == N]
+[True, True, True]
+""",
+    "toggles": r"""
+>>> [toggled(X, (1, 1)) == order_square((0, 2, 1)), toggled(U, (1, 2)) == U, toggled_colour(X, 0) == U, toggled_colour(X, 1) == L, toggled_colour(U, 0) == X, toggled_colour(U, 1) == U]
+[True, True, True, True, True, True]
+>>> [apart(U, L), apart(P, tipped(P)), apart(Q, Q), toggle_way(X, P), toggle_way(P, X), len(toggle_way(P, tipped(P))), is_toggle_way(P, tipped(P), ((2, 1), (1, 2))), is_toggle_way(X, P, ((2, 1),) * 3), is_toggle_way(X, X, ())]
+[4, 2, 0, ((2, 1),), ((2, 1),), 2, True, False, True]
+""",
+    "lifesteps": r"""
+>>> [is_state(W), is_state((D, N, (1, 3))), is_step(("colour", 2)), is_step(("tip",)), is_script(C), stepped(W, C[0])[0] == mirrored(D), stepped(W, C[0])[1][1], stepped(W, C[1])[1][1], stepped(W, ("invert",))[1][0]]
+[True, False, False, True, True, True, ((2, 1), (4, 3), (2, 1)), ((1, 1), (3, 2), (1, 1)), ((1, 1), (1, 2), (1, 1))]
+>>> [stepped(W, ("set", (0, 1), (5, 1)))[1][0], stepped(W, ("go", (0, 2)))[2], stepped(W, ("join", (1, 0)))[0], stepped(W, ("meet", (1, 0))) == W, stepped((D, N, (0, 2)), ("upend",))[2], stepped((D, N, (0, 1)), ("tip",))[2], stepped(W, ("colour", 1)) == W]
+[((1, 1), (5, 1), (1, 1)), (0, 2), ((0, 1), (1, 0)), True, (2, 2), (1, 0), True]
+>>> [len(all_stepped(W, C)), all_stepped(W, C)[-1][0] == D, all_stepped(W, C)[-1][1][1], all_stepped(W, ()) == [W], step_back(W, C[0]), step_back(W, C[1]), step_back(W, ("set", (0, 1), (5, 1))), step_back(W, ("go", (0, 0))), step_back(W, ("join", (1, 0)))]
+[4, True, ((1, 1), (2, 3), (1, 1)), True, ('toggle', (1, 1)), ('scale', (2, 1)), ('set', (0, 1), (2, 1)), ('go', (1, 1)), None]
+""",
+    "lifetexts": r"""
+>>> [square_text(X), square_text(((1,),)), notes_text(2, stepped(W, C[0])[1]), script_text(C).split("\n"), read_square("+0/0+") == D, read_notes(1, "1 1/2; 3 1"), read_script("tip\ncolour 1\nset 0-1 2/3\ngo 0-0\nmeet 0 2 1\ninvert")]
+['0+0/+-+/0+0', '+', '1 2 1; 2 4/3 2; 1 2 1', ['toggle 1-1', 'scale 1/2', 'mirror'], True, (((1, 1), (1, 2)), ((3, 1), (1, 1))), (('tip',), ('colour', 1), ('set', (0, 1), (2, 3)), ('go', (0, 0)), ('meet', (0, 2, 1)), ('invert',))]
+""",
+    "lifevalues": r"""
+>>> t = Toned(D, N)
+>>> [(t ^ (1, 1))(1, 1), (t << 0) == (t ^ (1, 1)), (t ^ (1, 1)) ^ (1, 1) == t, (~t)(0, 1), t[(1, 1)], (1, 1) in t, (0, 1) in t, len(t), bool(t), bool(Toned.plain(X)), str(t), t.like(t * (1, 2)), t.like(~t), (t | (1, 0)).square, (t & (0, 1)) == t]
+[(4, 3), True, True, (1, 2), 0, True, False, 2, True, False, '+0/0+; 1 2 1; 2 3 2; 1 2 1', True, False, ((0, 1), (1, 0)), True]
+""",
+    "lifebenches": r"""
+>>> b = Bench(W)
+>>> [b.rise, b.free, b.here, bool(b), b.do(C[0]), b.here, b.rise, list(b.lines()), b[(1, 1)], (1, 1) in b, b.do(("colour", 1)), b.undo(), len(b)]
+[0, ((1, 1),), (3, 1), True, True, (4, 3), 1, ['0 1 2', '1 2* 1', '2 1 0'], (2, (4, 3)), True, False, None, 1]
+>>> b += C[1:]
+>>> [b.square == D, b.notes[1], b.heights[0], b.undo(), b.redo(), len(b.log), len(b), b.undo(), b.undo(), b.state == W, b.log]
+[True, ((1, 1), (2, 3), (1, 1)), (0, 1, 2), None, None, 3, 2, None, None, True, ()]
 """,
 }
 

@@ -32,8 +32,15 @@ BARRED = set("""
 """.split())
 STATEMENTS = (
     ast.Assign, ast.If, ast.While, ast.For, ast.Return, ast.Break, ast.Continue, ast.Pass, ast.Raise, ast.Assert, ast.Delete,
-    ast.Expr, ast.FunctionDef, ast.ClassDef, ast.ImportFrom,
+    ast.Expr, ast.FunctionDef, ast.ClassDef, ast.ImportFrom, ast.Try,
 )
+# The methods with two underscores that a class may have, and their parameters.
+DOUBLE = {
+    **dict.fromkeys("__eq__ __xor__ __ixor__ __lshift__ __mul__ __and__ __or__ __iadd__".split(), ["self", "other"]),
+    **dict.fromkeys("__len__ __bool__ __str__ __iter__ __invert__".split(), ["self"]),
+    "__contains__": ["self", "x"], "__getitem__": ["self", "at"],
+}
+IN_PLACE = {"__ixor__", "__iadd__"}
 
 
 def nodes(*kinds):
@@ -107,7 +114,7 @@ class Files(unittest.TestCase):
 
     def test_docstrings(self):
         for name, node in nodes(ast.FunctionDef, ast.ClassDef, ast.Module):
-            if getattr(node, "name", "") not in ("__init__", "worth"):
+            if getattr(node, "name", "") not in ("__init__", "__call__", "worth", *DOUBLE):
                 self.assertTrue(ast.get_docstring(node), (name, getattr(node, "name", "")))
 
 
@@ -181,9 +188,40 @@ class Statements(unittest.TestCase):
             self.assertIsInstance(node, STATEMENTS, (name, node.lineno))
 
     def test_no_decorators_and_no_generators(self):
+        """But for properties and class methods, and for a single generator."""
+        methods = [node for _, owner in nodes(ast.ClassDef) for node in owner.body if isinstance(node, ast.FunctionDef)]
         for name, node in nodes(ast.FunctionDef, ast.ClassDef):
-            self.assertEqual(node.decorator_list, [], name)
-        self.assertEqual(nodes(ast.Yield, ast.YieldFrom, ast.GeneratorExp, ast.Await), [])
+            told = [decorator.id for decorator in node.decorator_list]
+            self.assertIn(told, ([], ["property"], ["classmethod"]), name)
+            self.assertTrue(told == [] or node in methods, name)
+        self.assertEqual(nodes(ast.YieldFrom, ast.GeneratorExp, ast.Await), [])
+        self.assertEqual([name for name, _ in nodes(ast.Yield)], ["lifebenches"])
+
+    def test_what_is_tried(self):
+        """Nothing is caught; what is at last done is plain assignments behind a test for None."""
+        for name, node in nodes(ast.Try):
+            self.assertEqual((node.handlers, node.orelse), ([], []), name)
+            for one in node.finalbody:
+                self.assertIsInstance(one, ast.If)
+                self.assertEqual((type(one.test), type(one.test.left), type(one.test.ops[0])), (ast.Compare, ast.Name, ast.Is))
+                self.assertEqual({type(some) for some in one.body + one.orelse}, {ast.Assign})
+
+    def test_nothing_is_changed_by_a_sign(self):
+        """No `+=` and the like, as a class has them as operators."""
+        self.assertEqual(nodes(ast.AugAssign), [])
+
+    def test_what_is_reversed(self):
+        for name, node in nodes(ast.Call):
+            if isinstance(node.func, ast.Name) and node.func.id == "reversed":
+                self.assertIsInstance(node.args[0], ast.Call, (name, node.lineno))
+                self.assertIn(node.args[0].func.id, ("range", "list", "tuple", "sorted"))
+
+    def test_stars_in_calls(self):
+        for name, node in nodes(ast.Call):
+            for star in [argument for argument in node.args if isinstance(argument, ast.Starred)]:
+                self.assertIsInstance(star.value, ast.Name, (name, node.lineno))
+                self.assertIn(node.func.id, ("zip", "max", "min"))
+            self.assertEqual([word for word in node.keywords if word.arg is None], [])
 
     def test_numbers(self):
         for name, node in nodes(ast.Constant):
@@ -197,14 +235,16 @@ class Statements(unittest.TestCase):
                 self.assertIn(node.id, BUILTINS, (name, node.lineno))
 
     def test_only_these_methods(self):
+        own = {"_lead", "MOST"} | {node.attr for _, node in nodes(ast.Attribute) if isinstance(node.ctx, ast.Store)}
         for name, node in nodes(ast.Attribute):
             if isinstance(node.ctx, ast.Load):
-                self.assertIn(node.attr, METHODS, (name, node.lineno))
+                self.assertIn(node.attr, METHODS | own, (name, node.lineno))
 
     def test_errors_are_made_on_the_spot(self):
         for name, node in nodes(ast.Raise):
             self.assertIsInstance(node.exc, ast.Call, (name, node.lineno))
-            self.assertIn(node.exc.func.id, top_names(TREES["errors"]))
+            if node.exc.func.id != "TypeError":
+                self.assertIn(node.exc.func.id, top_names(TREES["errors"]))
 
     def test_is_only_with_none(self):
         for name, node in nodes(ast.Compare):
@@ -231,7 +271,62 @@ class Statements(unittest.TestCase):
                         found = set(re.findall(r"[A-Za-z_]+", token.string)) & BARRED
                         self.assertEqual(found, set(), (path.name, token.start))
                     if token.type == tokenize.STRING:
-                        self.assertNotRegex(token.string, r"[%\\]", (path.name, token.start))
+                        self.assertNotRegex(token.string, r"%|\\[^n]", (path.name, token.start))
+
+
+class Classes(unittest.TestCase):
+    def classes(self):
+        return [(name, node) for name, node in nodes(ast.ClassDef) if name != "errors"]
+
+    def test_where_they_stand(self):
+        self.assertEqual([(name, node.name) for name, node in self.classes()], [("lifebenches", "Bench"), ("lifevalues", "Toned")])
+        for name, node in self.classes():
+            self.assertEqual((node.bases, node.keywords, node.decorator_list), ([], [], []))
+
+    def test_double_underscore_methods(self):
+        for name, node in self.classes():
+            for method in [some for some in node.body if isinstance(some, ast.FunctionDef)]:
+                if method.name in DOUBLE:
+                    self.assertEqual([argument.arg for argument in method.args.args], DOUBLE[method.name])
+                    self.assertEqual((method.args.defaults, method.args.vararg, method.args.kwonlyargs), ([], None, []))
+                elif method.name.startswith("__"):
+                    self.assertIn(method.name, ("__init__", "__call__"))
+
+    def test_iterating_raises(self):
+        for name, node in self.classes():
+            method = [some for some in node.body if getattr(some, "name", "") == "__iter__"][0]
+            self.assertEqual(len(method.body), 1)
+            self.assertEqual(method.body[0].exc.func.id, "TypeError")
+        self.assertEqual(len([1 for _, node in nodes(ast.Raise) if node.exc.func.id == "TypeError"]), 2)
+
+    def test_operators_and_properties_assign_no_attributes_and_items(self):
+        for name, node in self.classes():
+            for method in [some for some in node.body if isinstance(some, ast.FunctionDef)]:
+                if method.name in set(DOUBLE) - IN_PLACE or method.decorator_list:
+                    for inner in ast.walk(method):
+                        if isinstance(inner, (ast.Attribute, ast.Subscript)):
+                            self.assertIsInstance(inner.ctx, ast.Load, (name, method.name))
+
+    def test_names_are_methods_or_attributes(self):
+        for name, node in self.classes():
+            methods = [some.name for some in node.body if isinstance(some, ast.FunctionDef)]
+            stored_names = {some.attr for some in ast.walk(node) if isinstance(some, ast.Attribute) and isinstance(some.ctx, ast.Store)}
+            self.assertEqual(len(methods), len(set(methods)))
+            self.assertEqual(set(methods) & stored_names, set())
+            self.assertTrue(all(some.startswith("_") for some in stored_names))
+
+    def test_what_operators_call_changes_only_lists_of_its_own(self):
+        """Methods that modify are called only on names, each of which its function assigns a list as a literal, or a dict."""
+        for name, function in nodes(ast.FunctionDef):
+            made = {}
+            for node in ast.walk(function):
+                if isinstance(node, ast.Assign) and isinstance(node.targets[0], ast.Name):
+                    made[node.targets[0].id] = node.value
+            for node in ast.walk(function):
+                if isinstance(node, ast.Call) and isinstance(node.func, ast.Attribute) and node.func.attr == "append":
+                    self.assertIsInstance(node.func.value, (ast.Name, ast.Subscript), (name, node.lineno))
+                    if isinstance(node.func.value, ast.Name) and name in ("heights", "lifetexts", "lifesteps", "notes", "toggles"):
+                        self.assertIsInstance(made[node.func.value.id], ast.List, (name, node.lineno))
 
 
 if __name__ == "__main__":

@@ -1,6 +1,8 @@
 """Any values, and for each kind of argument values that are none of this kind."""
 
 from signsquared.errors import InvalidSquare, SignError, TooMany
+from signsquared.lifebenches import Bench
+from signsquared.lifevalues import Toned
 from tests.plainly import P, Q, U, X, out_links, plain_heights, plain_ice, plain_loops, plain_roads, plain_sorts
 
 
@@ -9,6 +11,10 @@ def nested(inner, depth, kind):
         inner = kind([inner])
     return inner
 
+
+NOTES_OF_ONE = (((1, 1), (1, 2)), ((2, 3), (1, 1)))
+TONED = Toned(((1,),), NOTES_OF_ONE)
+BENCH = Bench((((1,),), NOTES_OF_ONE, (0, 1)))
 
 INTEGERS = [0, 1, -1, 2, 3, 12, 13, 60, 61, -1000, 1000, 10 ** 119, -(10 ** 119)]
 
@@ -21,6 +27,7 @@ NO_INTEGERS = [
     nested(1, 30, tuple), nested(1, 30, list), nested((), 29, tuple), InvalidSquare("x"), SignError("x"), TooMany(3),
     (InvalidSquare("x"), 1), ((1, 0), (0, InvalidSquare("x"))), ((), ()), ((), ((),)), (((),), ((),)), (0, (1, 0)),
     ("across", 0, 0), (("across", 0, 0),), (("one",),) * 2, ("one",), ("a", "b", "c"), (((0, 0),), ((0, 0),)),
+    TONED, BENCH, (TONED,), [BENCH], (TONED, BENCH), (BENCH, 1, 1), ((TONED, 0), (0, BENCH)), (0, BENCH),
 ]
 
 ANY = INTEGERS + NO_INTEGERS

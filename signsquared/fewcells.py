@@ -114,7 +114,7 @@ def count_papered(sides, facts, value):
 
     None, if an end tells another square, or anything but a square, or if it is no such tree.
     """
-    if not length_between(value, 1, 6) or not isinstance(value[0], str):
+    if not length_between(value, 1, 6):
         return None
     if value[0] == "none":
         return 0 if len(value) == 1 else None

@@ -4,7 +4,6 @@ from math import comb
 
 from signsquared.errors import InvalidMove
 from signsquared.helpers import check_sides, multiplied
-from signsquared.likemoves import is_move
 from signsquared.squarelists import MOST_COUNTED, count_squares
 
 COUNTED = ("half", "mirrored", "quarter", "upended")
@@ -46,7 +45,7 @@ def quarter_count(sides):
 def count_by_move(sides, move):
     """How many squares of 1 to 60 sides are like themselves by "half", "mirrored", "quarter" or "upended"."""
     check_sides(sides, MOST_COUNTED)
-    if not is_move(move) or move not in COUNTED:
+    if move not in COUNTED:
         raise InvalidMove("this is none of the four moves")
     if move == "half":
         return half_count(sides)

@@ -36,8 +36,8 @@ def is_power_of_two(number):
 
 
 def is_prime(number):
-    """Whether an integer from 1 on is a prime."""
-    return number > 1 and all([number % divisor != 0 for divisor in range(2, number)])
+    """Whether an integer from 2 on is a prime."""
+    return all([number % divisor != 0 for divisor in range(2, number)])
 
 
 def power_in_factorial(number, prime):

@@ -5,9 +5,10 @@ import random
 import unittest
 
 from signsquared.bounded import bounds_go, bounds_paper, greatest_under, least_above
+from signsquared.errors import InvalidBounds
 from signsquared.keys import joined_orders, key_with
 from signsquared.squares import last_square, order_square, unit_square
-from tests.plainfacts import heights_of, keeps, random_bounds
+from tests.plainfacts import heights_of, keeps, plain_are_bounds, random_bounds
 from tests.plainly import plain_below, plain_heights, random_squares
 
 
@@ -30,6 +31,20 @@ def bounds_of(chance, square, many, by):
         i, j = chance.randint(0, sides), chance.randint(0, sides)
         found.append((i, j, table[i][j] + by * chance.choice((0, 0, 1, 2, 3))))
     return tuple(found)
+
+
+class Bounds(unittest.TestCase):
+    def test_the_bounds_of_each_number(self):
+        for sides in (1, 3, 12):
+            points = (-1, 0, sides, sides + 1)
+            for bound in itertools.product(points, points, (-41, -40, 0, 40, 41)):
+                right = plain_are_bounds(sides, (bound,))
+                for ask in (least_above, greatest_under):
+                    if right:
+                        ask(sides, (bound,))
+                    else:
+                        with self.assertRaises(InvalidBounds):
+                            ask(sides, (bound,))
 
 
 class LeastAndGreatest(unittest.TestCase):

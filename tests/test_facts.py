@@ -11,7 +11,7 @@ from signsquared.squarelists import count_squares, list_squares
 from signsquared.sures import clash_in, greatest_told, height_bounds, least_told, sure_cells
 from tests import wrongsteps
 from tests.plainfacts import (
-    LISTED, every_fact, is_paper, is_so, paper_length, plain_are_facts, plain_told, shortest_paper, some_facts, true_facts,
+    LISTED, RANGES, every_fact, is_paper, is_so, paper_length, plain_are_facts, plain_told, shortest_paper, some_facts, true_facts,
 )
 from tests.plainly import L, P, SMALL, U, X, plain_below, plain_heights, random_squares
 from tests.wrongs import ANY, spoilt
@@ -54,6 +54,13 @@ class AreFacts(unittest.TestCase):
             for fact in wrongsteps.MIXED_FACTS:
                 for value in spoilt((fact,)) + spoilt((fact, wrongsteps.T[0])):
                     self.assertIs(are_facts(sides, value), plain_are_facts(sides, value), (sides, value))
+
+    def test_the_bounds_of_each_number(self):
+        for sides in (1, 3, 12):
+            for word, (low, high) in RANGES.items():
+                numbers = (low - 1, low, high, high + 1)
+                for fact in itertools.product([word], (-1, 0, sides - 1, sides, sides + 1), (-1, 0, sides - 1, sides, sides + 1), numbers):
+                    self.assertIs(are_facts(sides, (fact,)), plain_are_facts(sides, (fact,)), (sides, fact))
 
     def test_how_many(self):
         for many in (0, 1, 39, 40, 41, 42, 500):
@@ -431,6 +438,11 @@ class Papers(unittest.TestCase):
             self.assertIs(is_cell_paper(sides, (), wrong), False)
             self.assertIs(is_cell_paper(sides + 1, (), paper), False)
         self.assertIs(is_cell_paper(8, (), self.full_paper(list_squares(4), 4, cells(4))), False)
+
+    def test_squares_of_other_sides(self):
+        for sides, facts in ((1, ()), (2, (("cell", 0, 0, 0),)), (2, wrongsteps.T), (3, wrongsteps.T + (("cell", 1, 0, 0), ("cell", 1, 1, 0)))):
+            for square in SMALL[1] + SMALL[2] + SMALL[3] + SMALL[4]:
+                self.assertIs(is_cell_paper(sides, facts, ("told", square)), plain_told(sides, facts) == [square])
 
     def test_deep_papers(self):
         """The same known cell again and again, thirty deep."""

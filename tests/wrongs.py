@@ -41,7 +41,7 @@ def spoilt(value):
     """Values that differ from a right one at one place, or in how it is built."""
     told = [list(value), value + value[-1:], value[:-1], value + (None,)]
     for at, item in enumerate(value):
-        others = [None, "x", [item], (item,), -7, 99]
+        others = [None, "x", [item], (item,), -7, 99, TONED]
         if item in (0, 1) and isinstance(item, int):
             others.append(bool(item))
         if isinstance(item, tuple):
